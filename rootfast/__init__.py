@@ -1,0 +1,1 @@
+"""Rootfast: certified zeros of polynomial systems."""

@@ -1,0 +1,48 @@
+"""The examples that the document's interface prints for the modules that have landed."""
+
+import unittest
+
+from rootfast.intervals import power_of, rounded
+from rootfast.matrices import inverse
+from rootfast.numbers import number, over
+from rootfast.polynomials import moved, multiplied
+from rootfast.real import count_roots, root_bound
+from rootfast.single import parts
+from rootfast.texts import read_polynomial, write_polynomial
+
+
+class Examples(unittest.TestCase):
+    def test_numbers(self):
+        self.assertEqual([number(4, -6), over((1, 2), (-3, 4))], [(-2, 3), (-2, 3)])
+
+    def test_intervals(self):
+        self.assertEqual(power_of(((-1, 1), (2, 1)), 2), ((0, 1), (4, 1)))
+        self.assertEqual(rounded(((1, 3), (2, 3)), 2), ((1, 4), (3, 4)))
+
+    def test_polynomials(self):
+        first, second = (((0,), (1, 1)), ((1,), (1, 1))), (((0,), (-1, 1)), ((1,), (1, 1)))
+        self.assertEqual(multiplied(first, second), (((0,), (-1, 1)), ((2,), (1, 1))))
+        self.assertEqual(moved(1, (((2,), (1, 1)),), ((3, 1),)), (((0,), (9, 1)), ((1,), (6, 1)), ((2,), (1, 1))))
+
+    def test_matrices(self):
+        self.assertEqual(inverse((((2, 1), (1, 1)), ((1, 1), (1, 1)))), (((1, 1), (-1, 1)), ((-1, 1), (2, 1))))
+
+    def test_texts(self):
+        text = write_polynomial(2, read_polynomial(2, "(x - y)^2 - 1/2*x"))
+        self.assertEqual(text, "x^2 - 2*x*y - 1/2*x + y^2")
+        self.assertEqual(read_polynomial(1, "-x^2 + 3"), (((0,), (3, 1)), ((2,), (-1, 1))))
+
+    def test_single(self):
+        p = (((0,), (-2, 1)), ((1,), (5, 1)), ((2,), (-4, 1)), ((3,), (1, 1)))
+        self.assertEqual(
+            parts(p), [(1, (((0,), (-2, 1)), ((1,), (1, 1)))), (2, (((0,), (-1, 1)), ((1,), (1, 1))))]
+        )
+
+    def test_real(self):
+        two = (((0,), (-2, 1)), ((2,), (1, 1)))
+        found = [count_roots(two, (-2, 1), (2, 1)), count_roots(two, (0, 1), (1, 1)), root_bound(two)]
+        self.assertEqual(found, [2, 0, 3])
+
+
+if __name__ == "__main__":
+    unittest.main()

@@ -1,0 +1,113 @@
+"""Promise [0.2]: what holds for the whole package."""
+
+import copy
+import unittest
+
+from helpers import iv, strange_values, uni
+from rootfast import intervals, matrices, numbers, polynomials, real, single, systems, texts
+
+TWO = uni(-2, 0, 1)
+CIRCLE = (((0, 0), (-2, 1)), ((0, 2), (1, 1)), ((2, 0), (1, 1)))
+LINE = (((0, 1), (-1, 1)), ((1, 0), (1, 1)))
+MATRIX = (((0, 1), (1, 2)), ((3, 1), (1, 1)))
+
+# Each function of the interface with arguments, and what its result is made of.
+CALLS = [
+    (numbers.number, (4, -6)), (numbers.plus, ((1, 2), (1, 3))), (numbers.minus, ((1, 2), (1, 2))),
+    (numbers.times, ((1, 2), (2, 3))), (numbers.over, ((1, 2), (-2, 3))), (numbers.compare, ((1, 2), (2, 3))),
+    (numbers.power, ((1, 2), 3)), (numbers.is_number, ((1, 2),)), (numbers.write_number, ((1, 2),)),
+    (numbers.read_number, ("-1/2",)),
+    (intervals.is_interval, (iv(0, 1),)), (intervals.sum_of, (iv(0, 1), iv(-1, 2))),
+    (intervals.difference_of, (iv(0, 1), iv(-1, 2))), (intervals.product_of, (iv(0, 1), iv(-1, 2))),
+    (intervals.multiple_of, ((-1, 2), iv(0, 1))), (intervals.power_of, (iv(-1, 2), 2)),
+    (intervals.meeting_of, (iv(0, 1), iv(1, 2))), (intervals.hull_of, (iv(0, 1), iv(2, 3))),
+    (intervals.sign_of, (iv(1, 2),)), (intervals.has, (iv(0, 1), (1, 1))), (intervals.lies_within, (iv(0, 1), iv(0, 1))),
+    (intervals.lies_inside, (iv(0, 1), iv(0, 1))), (intervals.middle_of, (iv(0, 1),)), (intervals.width_of, (iv(0, 1),)),
+    (intervals.rounded, (iv(0, 1), 3)),
+    (polynomials.is_polynomial, (2, CIRCLE)), (polynomials.polynomial, (1, [((1,), (1, 1)), ((1,), (0, 1)), ((0,), (2, 1))])),
+    (polynomials.constant, (2, (1, 2))), (polynomials.variable, (3, 1)), (polynomials.added, (CIRCLE, LINE)),
+    (polynomials.subtracted, (CIRCLE, LINE)), (polynomials.multiplied, (CIRCLE, LINE)),
+    (polynomials.scaled, (CIRCLE, (1, 2))), (polynomials.raised, (2, LINE, 3)), (polynomials.derivative, (CIRCLE, 0)),
+    (polynomials.value_at, (CIRCLE, ((1, 2), (1, 3)))), (polynomials.moved, (2, CIRCLE, ((1, 2), (1, 3)))),
+    (polynomials.fixed, (2, CIRCLE, 1, (1, 2))), (polynomials.degree, (CIRCLE,)), (polynomials.degree_in, (CIRCLE, 1)),
+    (systems.is_system, (2, (CIRCLE, LINE))), (systems.values_at, ((CIRCLE, LINE), ((1, 2), (1, 3)))),
+    (systems.jacobian, (2, (CIRCLE, LINE), ((1, 2), (1, 3)))),
+    (matrices.is_matrix, (2, 2, MATRIX)), (matrices.determinant, (MATRIX,)), (matrices.inverse, (MATRIX,)),
+    (matrices.rank, (MATRIX,)), (matrices.applied, (MATRIX, ((1, 1), (2, 1)))), (matrices.transposed, (MATRIX,)),
+    (matrices.matrix_product, (MATRIX, MATRIX)),
+    (texts.read_polynomial, (2, "x*y - 1/2")), (texts.write_polynomial, (2, CIRCLE)),
+    (texts.write_system, (2, (CIRCLE, LINE))), (texts.read_system, (2, "x\ny\n")),
+    (single.divided, (TWO, uni(1, 1))), (single.common_divisor, (TWO, uni(1, 1))), (single.parts, (uni(0, 0, -1, 1),)),
+    (single.simple_part, (uni(0, 0, -1, 1),)),
+    (real.chain, (TWO,)), (real.changes, ([TWO, uni(0, 2), uni(2)], (1, 1))), (real.count_roots, (TWO, (0, 1), (2, 1))),
+    (real.root_bound, (TWO,)), (real.isolated, (TWO,)), (real.refined, (TWO, iv(1, 2), 5)),
+]
+
+LISTS = {"parts", "chain", "isolated"}
+TELLING = {
+    "is_number", "is_interval", "has", "lies_within", "lies_inside", "is_polynomial", "is_system", "is_matrix",
+}
+INTEGERS = {"compare", "sign_of", "degree", "degree_in", "rank", "changes", "count_roots", "root_bound"}
+TEXTS = {"write_number", "write_polynomial", "write_system"}
+
+
+def kind_of(name):
+    for kind, names in ((list, LISTS), (bool, TELLING), (int, INTEGERS), (str, TEXTS)):
+        if name in names:
+            return kind
+    return tuple
+
+
+def plain_tuples_within(value):
+    """True if nothing but tuples, integers that are no booleans, and texts is in a value."""
+    if type(value) is tuple:
+        return all(plain_tuples_within(x) for x in value)
+    return type(value) in (int, str)
+
+
+class Everywhere(unittest.TestCase):
+    def test_arguments_stay(self):
+        for function, arguments in CALLS:
+            before = copy.deepcopy(arguments)
+            function(*arguments)
+            self.assertEqual(arguments, before, function.__name__)
+
+    def test_same_results(self):
+        for function, arguments in CALLS:
+            self.assertEqual(function(*arguments), function(*copy.deepcopy(arguments)), function.__name__)
+
+    def test_kinds_of_results(self):
+        for function, arguments in CALLS:
+            result = function(*arguments)
+            self.assertIs(type(result), kind_of(function.__name__), function.__name__)
+            if type(result) in (list, tuple):
+                self.assertTrue(plain_tuples_within(tuple(result)), function.__name__)
+
+    def test_lists_are_new(self):
+        for function, arguments in CALLS:
+            if function.__name__ in LISTS:
+                first = function(*arguments)
+                first.append(None)
+                first[0] = None
+                second = function(*arguments)
+                self.assertNotIn(None, second)
+                self.assertIsNot(first, second)
+
+    def test_any_value(self):
+        for value in strange_values():
+            for function in (numbers.is_number, intervals.is_interval):
+                self.assertIs(function(value), False)
+            self.assertIs(polynomials.is_polynomial(2, value), False)
+            self.assertIs(matrices.is_matrix(2, 2, value), False)
+            self.assertIs(type(systems.is_system(2, value)), bool)
+
+    def test_booleans_are_no_integers(self):
+        self.assertIs(numbers.is_number((True, 1)), False)
+        self.assertIs(intervals.is_interval(((False, 1), (1, 1))), False)
+        self.assertIs(polynomials.is_polynomial(1, (((True,), (1, 1)),)), False)
+        self.assertIs(systems.is_system(1, ((((1,), (True, 1)),),)), False)
+        self.assertIs(matrices.is_matrix(1, 1, (((True, 1),),)), False)
+
+
+if __name__ == "__main__":
+    unittest.main()
