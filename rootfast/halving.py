@@ -3,7 +3,7 @@
 from rootfast.intervals import middle_of, width_of
 from rootfast.numbers import power, times
 from rootfast.polynomials import moved
-from rootfast.whole import fraction_form, primitive, sign_at_number, slope_of, whole_form
+from rootfast.whole import fraction_form, primitive, sign_at_number, slope_of, wholes_of
 
 
 def moved_by_one(f):
@@ -37,8 +37,7 @@ def over_unit(f, low, high):
     width = width_of((low, high))
     p = moved(1, fraction_form(f, 1, 1), (low,))
     stretched = tuple([(e, times(coefficient, power(width, e[0]))) for e, coefficient in p])
-    wholes, below = whole_form(stretched)
-    return primitive(wholes)
+    return primitive(wholes_of(stretched))
 
 
 def lower_half(f):

@@ -37,7 +37,7 @@ def determinant(matrix):
 
 def rank(matrix):
     """The rank of a matrix."""
-    rows, below = _whole_rows(matrix)
+    rows, _ = _whole_rows(matrix)
     columns = len(matrix[0])
     # The vectors span all that is turned into 0 by the rows looked at so far: where many rows depend
     # on others, looking at a row so costs little.
@@ -77,7 +77,7 @@ def inverse(matrix):
     for k, row in enumerate(matrix):
         below, wholes = _whole_row(row)
         rows.append(wholes + [below if i == k else 0 for i in range(size)])
-    count, last = _eliminated(rows, size, True)
+    count, _ = _eliminated(rows, size, True)
     if count < size:
         return None
     return tuple([_quotients(row[size:], row[k]) for k, row in enumerate(rows)])
@@ -90,7 +90,7 @@ def _quotients(wholes, below):
 def _whole_row(row):
     """The least common denominator of a row, and the list of the integers that are the row times it."""
     below = 1
-    for a, b in row:
+    for _, b in row:
         below = lcm(below, b)
     return below, [a * (below // b) for a, b in row]
 

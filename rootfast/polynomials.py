@@ -166,7 +166,7 @@ def _moved_row(row, x):
     a, b = x
     top = row[-1][0]
     below = 1
-    for e, coefficient in row:
+    for _, coefficient in row:
         below = lcm(below, coefficient[1])
     powers = [whole_power(b, e) for e in range(top + 1)]
     # With the variable divided by b all coefficients are integers, and x is the integer a.

@@ -5,7 +5,7 @@ from rootfast.intervals import width_of
 from rootfast.numbers import compare
 from rootfast.polynomials import derivative, scaled
 from rootfast.single import divided, simple_part, simple_whole, whole_parts
-from rootfast.whole import sign_at_number, whole_form
+from rootfast.whole import sign_at_number, wholes_of
 
 
 def chain(p):
@@ -15,19 +15,14 @@ def chain(p):
     following = derivative(first, 0)
     while following:
         found.append(following)
-        quotient, rest = divided(found[-2], found[-1])
+        _, rest = divided(found[-2], found[-1])
         following = scaled(rest, (-1, 1))
     return found
 
 
 def changes(chain, x):
     """The number of changes of sign in the values of a chain at a number x."""
-    return sign_changes([_sign_of_value(p, x) for p in chain])
-
-
-def _sign_of_value(p, x):
-    f, below = whole_form(p)
-    return sign_at_number(f, x)
+    return sign_changes([sign_at_number(wholes_of(p), x) for p in chain])
 
 
 def count_roots(p, low, high):
@@ -40,7 +35,7 @@ def count_roots(p, low, high):
 
 def root_bound(p):
     """The least integer that is at least Cauchy's bound for the sizes of the roots of p."""
-    f, below = whole_form(p)
+    f = wholes_of(p)
     lead = abs(f[-1])
     greatest = max([abs(c) for c in f[:-1]], default=0)
     return 1 - (-greatest // lead)
@@ -71,7 +66,7 @@ def _has_single_root(f, interval):
 def refined(p, interval, bits):
     """An interval with the same root of p and a width of at most 1 / 2 ** bits."""
     left, right = interval
-    f, below = whole_form(p)
+    f = wholes_of(p)
     sign = sign_at_number(f, left)
     if sign == sign_at_number(f, right):
         # The root has an even multiplicity, or is both ends: only the simple part changes its sign.

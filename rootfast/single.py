@@ -5,11 +5,12 @@ from rootfast.whole import (
     exact_quotient,
     fraction_form,
     greatest_divisor,
-    less,
     monic_form,
     primitive,
     slope_of,
+    trimmed,
     whole_form,
+    wholes_of,
 )
 
 
@@ -34,9 +35,7 @@ def _primitive_form(p):
 
 def common_divisor(p, q):
     """The greatest common divisor of p and q, one of which may be 0, with the leading coefficient 1."""
-    f, f_below = whole_form(p)
-    g, g_below = whole_form(q)
-    return monic_form(greatest_divisor(f, g))
+    return monic_form(greatest_divisor(wholes_of(p), wholes_of(q)))
 
 
 def parts(p):
@@ -46,17 +45,16 @@ def parts(p):
 
 def whole_parts(p):
     """As parts(p), with lists of integers (see whole.py) that are multiples of the polynomials."""
-    wholes, below = whole_form(p)
-    f = primitive(wholes)
+    f = primitive(wholes_of(p))
     slope = slope_of(f)
     common = greatest_divisor(f, slope)
-    # Yun's way: `left` is the product of the parts from k on.
+    # Yun's way: `left` is the product of the parts from k on, and `beside` has the degree of its derivative.
     left = exact_quotient(f, common)
     beside = exact_quotient(slope, common)
     found = []
     k = 1
     while len(left) > 1:
-        here = less(beside, slope_of(left))
+        here = trimmed([a - b for a, b in zip(beside, slope_of(left))])
         part = greatest_divisor(left, here)
         if len(part) > 1:
             found.append((k, part))
@@ -73,6 +71,5 @@ def simple_part(p):
 
 def simple_whole(p):
     """As simple_part(p), as a list of integers (see whole.py) that is a multiple of it."""
-    wholes, below = whole_form(p)
-    f = primitive(wholes)
+    f = primitive(wholes_of(p))
     return exact_quotient(f, greatest_divisor(f, slope_of(f)))

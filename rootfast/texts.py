@@ -6,7 +6,6 @@ from rootfast.polynomials import constant, multiplied, polynomial, raised, scale
 
 _NAMES = "xyzu"
 _FIGURES = "0123456789"
-_SIGNS = "+-*^()"
 _EXPONENTS = ("0", "1", "2", "3", "4", "5", "6", "7", "8", "9", "10", "11", "12")
 _MOST_BRACKETS = 30
 
@@ -14,7 +13,7 @@ _MOST_BRACKETS = 30
 def read_polynomial(n, text):
     """The polynomial that a formula in n variables stands for."""
     # All of the text is read before anything is worked out, so that a bad text is told soon.
-    tree, at = _formula(n, _parts_of(text), 0, 0)
+    tree, _ = _formula(n, _parts_of(text), 0, 0)
     return _worth(n, tree)
 
 
@@ -30,10 +29,9 @@ def _parts_of(text):
         elif text[at] in _FIGURES:
             behind = _number_end(text, at)
             parts.append(text[at:behind])
-        elif text[at] in _SIGNS or text[at] in _NAMES:
-            parts.append(text[at])
         else:
-            raise BadText("a sign that no formula has")
+            # A sign that no formula has fits nowhere later on.
+            parts.append(text[at])
         at = behind
     return parts + [""]
 
@@ -98,9 +96,8 @@ def _atom(n, parts, at, depth):
         return tree, at + 1
     if part != "" and part in _NAMES[:n]:
         return ("plain", variable(n, _NAMES.index(part))), at + 1
-    if part != "" and part[0] in _FIGURES:
-        return ("plain", constant(n, read_number(part))), at + 1
-    raise BadText("no number, name or bracket where one should be")
+    # Whatever else stands here is a number, or read_number raises BadText.
+    return ("plain", constant(n, read_number(part))), at + 1
 
 
 def _worth(n, tree):

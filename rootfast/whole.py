@@ -12,12 +12,17 @@ from rootfast.numbers import number
 def whole_form(p):
     """The pair of a list and an integer greater than 0: p is the one divided by the other."""
     below = 1
-    for exponents, coefficient in p:
+    for _, coefficient in p:
         below = lcm(below, coefficient[1])
     f = [0] * (p[-1][0][0] + 1 if p else 0)
     for exponents, coefficient in p:
         f[exponents[0]] = coefficient[0] * (below // coefficient[1])
     return f, below
+
+
+def wholes_of(p):
+    """The list that is p times an integer greater than 0."""
+    return whole_form(p)[0]
 
 
 def fraction_form(f, a, b):
@@ -51,13 +56,6 @@ def primitive(f):
 def slope_of(f):
     """The derivative of f."""
     return [k * f[k] for k in range(1, len(f))]
-
-
-def less(f, g):
-    """The difference of f and g."""
-    size = max(len(f), len(g))
-    longer = f + [0] * (size - len(f))
-    return trimmed([a - b for a, b in zip(longer, g + [0] * (size - len(g)))])
 
 
 def whole_value(f, x):

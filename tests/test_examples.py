@@ -1,5 +1,7 @@
-"""The examples that the document's interface prints for the modules that have landed."""
+"""The examples that the document's interface prints for the modules that have landed, and those of README.md."""
 
+import doctest
+import pathlib
 import unittest
 
 from rootfast.intervals import power_of, rounded
@@ -12,6 +14,12 @@ from rootfast.texts import read_polynomial, write_polynomial
 
 
 class Examples(unittest.TestCase):
+    def test_readme(self):
+        readme = pathlib.Path(__file__).resolve().parent.parent / "README.md"
+        failed, tried = doctest.testfile(str(readme), module_relative=False)
+        self.assertEqual(failed, 0)
+        self.assertGreater(tried, 0)
+
     def test_numbers(self):
         self.assertEqual([number(4, -6), over((1, 2), (-3, 4))], [(-2, 3), (-2, 3)])
 

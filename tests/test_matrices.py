@@ -59,6 +59,7 @@ class Telling(unittest.TestCase):
         for value in ((), ((),), ((), ())):
             self.assertIs(is_matrix(0, 0, value), False)
             self.assertIs(is_matrix(len(value), 0, value), False)
+            self.assertIs(is_matrix(0, 2, value), False)
         for rows, columns in itertools.product(range(1, 4), range(1, 4)):
             for x in strange_values():
                 self.assertIs(is_matrix(rows, columns, x), False)
@@ -128,6 +129,26 @@ class Ranks(unittest.TestCase):
                     matrix = matrix_product(maker.matrix(rows, inner), maker.matrix(inner, columns))
                     self.assertEqual(rank(matrix), told_rank(matrix))
                     self.assertEqual(rank(transposed(matrix)), rank(matrix))
+
+
+class SmallOnes(unittest.TestCase):
+    def test_all_with_few_numbers(self):
+        for entries in itertools.product((0, 1, Fraction(-1, 2)), repeat=4):
+            self.check(mat(entries[:2], entries[2:]))
+        for entries in itertools.product((0, 1), repeat=9):
+            self.check(mat(entries[:3], entries[3:6], entries[6:]))
+        for entries in itertools.product((0, 1, -2), repeat=3):
+            self.assertEqual(rank(mat(entries)), int(any(entries)))
+
+    def check(self, matrix):
+        told = told_determinant(matrix)
+        self.assertEqual(determinant(matrix), told)
+        self.assertEqual(rank(matrix), told_rank(matrix))
+        found = inverse(matrix)
+        if told == (0, 1):
+            self.assertIsNone(found)
+        else:
+            self.assertEqual(matrix_product(matrix, found), unit(len(matrix)))
 
 
 class Products(unittest.TestCase):

@@ -37,7 +37,7 @@ class Telling(unittest.TestCase):
             self.assertIs(is_number(x), True, x)
 
     def test_pairs_that_are_none(self):
-        for x in ((2, 4), (0, 2), (3, 0), (0, 0), (1, -2), (0, -1), (-2, -3), (6, 3)):
+        for x in ((2, 4), (0, 2), (3, 0), (0, 0), (1, 0), (-1, 0), (1, -2), (0, -1), (-2, -3), (6, 3)):
             self.assertIs(is_number(x), False, x)
 
     def test_wrong_kinds(self):
