@@ -154,7 +154,7 @@ class Form(unittest.TestCase):
             for function in functions:
                 names = bound_names(function)
                 self.assertEqual(names & taken, set(), (path, function.name))
-                for name in names | {function.name} - {"__init__"}:
+                for name in (names | {function.name}) - {"__init__", "_"}:
                     self.assertFalse(name.startswith("__"), (path, name))
                     self.assertFalse(hasattr(builtins, name) or name in BARRED, (path, name))
             for name in module_names(tree):
