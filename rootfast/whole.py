@@ -126,7 +126,7 @@ def greatest_divisor(f, g):
     # All roots of the list with the least coefficients are less in size than half this point. So at
     # the point a missing factor would be too great to hide in a divisor of the coefficients that are
     # read off: what is read off and divides both lists is the greatest divisor. The margin spares tries.
-    point = 2 * min(_greatest_size(first), _greatest_size(second)) + 2 << 32
+    point = (2 * min(_greatest_size(first), _greatest_size(second)) + 2) << 32
     while True:
         common = gcd(whole_value(first, point), whole_value(second, point))
         found = primitive(_read_off(common, point))
