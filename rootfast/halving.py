@@ -32,12 +32,15 @@ def unit_variations(f):
     return sign_changes(moved_by_one(f[::-1]))
 
 
+def stretched(p, low, high):
+    """The polynomial whose value at x is that of p at low + (high - low) * x."""
+    width = width_of((low, high))
+    return tuple([(e, times(coefficient, power(width, e[0]))) for e, coefficient in moved(1, p, (low,))])
+
+
 def over_unit(f, low, high):
     """A multiple of the list whose value at x is that of f at low + (high - low) * x."""
-    width = width_of((low, high))
-    p = moved(1, fraction_form(f, 1, 1), (low,))
-    stretched = tuple([(e, times(coefficient, power(width, e[0]))) for e, coefficient in p])
-    return primitive(wholes_of(stretched))
+    return primitive(wholes_of(stretched(fraction_form(f, 1, 1), low, high)))
 
 
 def lower_half(f):

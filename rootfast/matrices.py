@@ -75,7 +75,7 @@ def inverse(matrix):
     size = len(matrix)
     rows = []
     for k, row in enumerate(matrix):
-        below, wholes = _whole_row(row)
+        below, wholes = whole_row(row)
         rows.append(wholes + [below if i == k else 0 for i in range(size)])
     count, _ = _eliminated(rows, size, True)
     if count < size:
@@ -87,8 +87,8 @@ def _quotients(wholes, below):
     return tuple([number(a, below) for a in wholes])
 
 
-def _whole_row(row):
-    """The least common denominator of a row, and the list of the integers that are the row times it."""
+def whole_row(row):
+    """The least common denominator of the numbers of a row, and the list of the integers that are the row times it."""
     below = 1
     for _, b in row:
         below = lcm(below, b)
@@ -100,7 +100,7 @@ def _whole_rows(matrix):
     rows = []
     product_of_all = 1
     for row in matrix:
-        below, wholes = _whole_row(row)
+        below, wholes = whole_row(row)
         rows.append(wholes)
         product_of_all = product_of_all * below
     return rows, product_of_all

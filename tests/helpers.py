@@ -4,6 +4,8 @@ import itertools
 import random
 from fractions import Fraction
 
+from rootfast.texts import read_polynomial
+
 
 def nested(depth, make):
     value = make(None)
@@ -52,6 +54,21 @@ def num(x, b=1):
 def iv(low, high):
     """The interval from low to high."""
     return (num(low), num(high))
+
+
+def box_of(*ends):
+    """The box whose intervals go from the first to the second of each pair."""
+    return tuple(iv(low, high) for low, high in ends)
+
+
+def around(point, size):
+    """The box of the points that differ from a point, of fractions, by at most a size."""
+    return box_of(*[(Fraction(x) - size, Fraction(x) + size) for x in point])
+
+
+def system_of(n, *texts):
+    """The system of some formulas."""
+    return tuple(read_polynomial(n, text) for text in texts)
 
 
 def uni(*coefficients):
@@ -129,6 +146,9 @@ class Maker:
 
     def interval(self):
         return tuple(sorted([self.number(), self.number()], key=q))
+
+    def box(self, n):
+        return tuple(self.interval() for _ in range(n))
 
     def matrix(self, rows, columns):
         return tuple(tuple(self.number(4, 3) for _ in range(columns)) for _ in range(rows))

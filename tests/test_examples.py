@@ -4,11 +4,16 @@ import doctest
 import pathlib
 import unittest
 
+from rootfast.bernstein import bernstein, halved
+from rootfast.bounds import bounds, centered, natural
+from rootfast.boxes import widened
+from rootfast.combs import comb, variations
 from rootfast.intervals import power_of, rounded
 from rootfast.matrices import inverse
 from rootfast.numbers import number, over
 from rootfast.polynomials import moved, multiplied
 from rootfast.real import count_roots, root_bound
+from rootfast.roots import floor_of, roots_of, sign_at
 from rootfast.single import parts
 from rootfast.texts import read_polynomial, write_polynomial
 
@@ -53,6 +58,32 @@ class Examples(unittest.TestCase):
         two = (((0,), (-2, 1)), ((2,), (1, 1)))
         found = [count_roots(two, (-2, 1), (2, 1)), count_roots(two, (0, 1), (1, 1)), root_bound(two)]
         self.assertEqual(found, [2, 0, 3])
+
+    def test_bernstein(self):
+        found = [bernstein((((2,), (1, 1)),), (0, 1), (1, 1)), halved(((0, 1), (0, 1), (1, 1)))]
+        self.assertEqual(
+            found, [((0, 1), (0, 1), (1, 1)), (((0, 1), (0, 1), (1, 4)), ((1, 4), (1, 2), (1, 1)))]
+        )
+
+    def test_combs(self):
+        two = (((0,), (-2, 1)), ((2,), (1, 1)))
+        found = [variations(two, (-2, 1), (2, 1)), comb(two, (-2, 1), (2, 1), 1)]
+        self.assertEqual(found, [2, ("halve", ("one",), ("one",))])
+
+    def test_roots(self):
+        two = (((0,), (-2, 1)), ((2,), (1, 1)))
+        low, high = roots_of(two)
+        found = [floor_of(low), floor_of(high), sign_at(two, high), sign_at((((0,), (-3, 2)), ((1,), (1, 1))), high)]
+        self.assertEqual(found, [-2, 1, 0, -1])
+
+    def test_boxes(self):
+        self.assertEqual(widened((((0, 1), (1, 1)),)), (((-1, 2), (3, 2)),))
+
+    def test_bounds(self):
+        p = (((1,), (-1, 1)), ((2,), (1, 1)))
+        box = (((0, 1), (1, 1)),)
+        found = [natural(p, box), centered(p, box), bounds(p, box)]
+        self.assertEqual(found, [((-1, 1), (1, 1)), ((-1, 2), (0, 1)), ((-1, 2), (0, 1))])
 
 
 if __name__ == "__main__":

@@ -3,13 +3,18 @@
 import copy
 import unittest
 
-from helpers import iv, strange_values, uni
-from rootfast import intervals, matrices, numbers, polynomials, real, single, systems, texts
+from helpers import box_of, iv, strange_values, uni
+from rootfast import (
+    bernstein, bounds, boxes, combs, intervals, matrices, numbers, polynomials, real, roots, single, systems, texts,
+)
 
 TWO = uni(-2, 0, 1)
 CIRCLE = (((0, 0), (-2, 1)), ((0, 2), (1, 1)), ((2, 0), (1, 1)))
 LINE = (((0, 1), (-1, 1)), ((1, 0), (1, 1)))
 MATRIX = (((0, 1), (1, 2)), ((3, 1), (1, 1)))
+ROOT = (TWO, iv(1, 2))
+SQUARE = box_of((0, 1), (-1, 2))
+OTHER = box_of((0, 1), (0, 1))
 
 # Each function of the interface with arguments, and what its result is made of.
 CALLS = [
@@ -41,13 +46,30 @@ CALLS = [
     (single.simple_part, (uni(0, 0, -1, 1),)),
     (real.chain, (TWO,)), (real.changes, ([TWO, uni(0, 2), uni(2)], (1, 1))), (real.count_roots, (TWO, (0, 1), (2, 1))),
     (real.root_bound, (TWO,)), (real.isolated, (TWO,)), (real.refined, (TWO, iv(1, 2), 5)),
+    (bernstein.bernstein, (TWO, (0, 1), (2, 1))), (bernstein.halved, (((0, 1), (0, 1), (1, 1)),)),
+    (combs.variations, (TWO, (0, 1), (2, 1))), (combs.check_comb, (TWO, (0, 1), (2, 1), ("one",))),
+    (combs.comb, (TWO, (-2, 1), (2, 1), 3)), (combs.comb_count, (TWO, (0, 1), (2, 1), ("one",))),
+    (roots.is_root, (ROOT,)), (roots.root_of, ((1, 2),)), (roots.roots_of, (TWO,)), (roots.compare_roots, (ROOT, ROOT)),
+    (roots.compare_root, (ROOT, (1, 1))), (roots.sign_at, (TWO, ROOT)), (roots.floor_of, (ROOT,)), (roots.near, (ROOT, 5)),
+    (roots.negative_root, (ROOT,)), (roots.shifted_root, (ROOT, (1, 2))), (roots.scaled_root, (ROOT, (1, 2))),
+    (roots.inverse_root, (ROOT,)),
+    (boxes.is_box, (2, SQUARE)), (boxes.box_has, (SQUARE, ((0, 1), (0, 1)))), (boxes.box_within, (OTHER, SQUARE)),
+    (boxes.box_inside, (OTHER, SQUARE)), (boxes.box_middle, (SQUARE,)), (boxes.box_widths, (SQUARE,)),
+    (boxes.longest, (SQUARE,)), (boxes.halves, (SQUARE, 1)), (boxes.box_hull, (SQUARE, OTHER)), (boxes.widened, (SQUARE,)),
+    (boxes.box_rounded, (SQUARE, 3)), (boxes.box_meeting, (SQUARE, OTHER)), (boxes.corners, (SQUARE,)),
+    (bounds.natural, (CIRCLE, SQUARE)), (bounds.centered, (CIRCLE, SQUARE)), (bounds.bounds, (CIRCLE, SQUARE)),
+    (bounds.slopes, ((CIRCLE, LINE), SQUARE)),
 ]
 
-LISTS = {"parts", "chain", "isolated"}
+LISTS = {"parts", "chain", "isolated", "roots_of", "corners"}
 TELLING = {
-    "is_number", "is_interval", "has", "lies_within", "lies_inside", "is_polynomial", "is_system", "is_matrix",
+    "is_number", "is_interval", "has", "lies_within", "lies_inside", "is_polynomial", "is_system", "is_matrix", "check_comb",
+    "is_root", "is_box", "box_has", "box_within", "box_inside",
 }
-INTEGERS = {"compare", "sign_of", "degree", "degree_in", "rank", "changes", "count_roots", "root_bound"}
+INTEGERS = {
+    "compare", "sign_of", "degree", "degree_in", "rank", "changes", "count_roots", "root_bound", "variations", "comb_count",
+    "compare_roots", "compare_root", "sign_at", "floor_of", "longest",
+}
 TEXTS = {"write_number", "write_polynomial", "write_system"}
 
 
@@ -95,8 +117,10 @@ class Everywhere(unittest.TestCase):
 
     def test_any_value(self):
         for value in strange_values():
-            for function in (numbers.is_number, intervals.is_interval):
+            for function in (numbers.is_number, intervals.is_interval, roots.is_root):
                 self.assertIs(function(value), False)
+            self.assertIs(boxes.is_box(2, value), False)
+            self.assertIs(combs.check_comb(TWO, (0, 1), (2, 1), value), False)
             self.assertIs(polynomials.is_polynomial(2, value), False)
             self.assertIs(matrices.is_matrix(2, 2, value), False)
             self.assertIs(type(systems.is_system(2, value)), bool)
@@ -107,6 +131,9 @@ class Everywhere(unittest.TestCase):
         self.assertIs(polynomials.is_polynomial(1, (((True,), (1, 1)),)), False)
         self.assertIs(systems.is_system(1, ((((1,), (True, 1)),),)), False)
         self.assertIs(matrices.is_matrix(1, 1, (((True, 1),),)), False)
+        self.assertIs(boxes.is_box(1, (((False, 1), (1, 1)),)), False)
+        self.assertIs(roots.is_root((uni(0, 1), ((0, True), (0, True)))), False)
+        self.assertIs(combs.check_comb(TWO, (0, 1), (1, 1), True), False)
 
 
 if __name__ == "__main__":

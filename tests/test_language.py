@@ -64,6 +64,12 @@ def module_names(tree):
     return names
 
 
+def own_methods():
+    """The names of the methods of the package's classes."""
+    classes = [x for tree in trees().values() for x in tree.body if isinstance(x, ast.ClassDef)]
+    return {x.name for c in classes for x in c.body if isinstance(x, ast.FunctionDef)}
+
+
 def docstrings(tree):
     holders = [x for x in ast.walk(tree) if isinstance(x, (ast.Module, ast.FunctionDef, ast.ClassDef))]
     firsts = [x.body[0] for x in holders if x.body and isinstance(x.body[0], ast.Expr)]
@@ -161,6 +167,8 @@ class Form(unittest.TestCase):
                 self.assertFalse(hasattr(builtins, name) or name in BARRED, (path, name))
 
     def test_what_is_called(self):
+        own = own_methods()
+        self.assertEqual(own & METHODS, set())
         for path, tree in trees().items():
             known = set(module_names(tree))
             for node in ast.walk(tree):
@@ -168,7 +176,7 @@ class Form(unittest.TestCase):
                     self.assertTrue(node.func.id in known | BUILTINS, (path, node.func.id))
                 elif isinstance(node, ast.Call):
                     self.assertIsInstance(node.func, ast.Attribute, (path, node.lineno))
-                    self.assertIn(node.func.attr, METHODS, (path, node.lineno))
+                    self.assertIn(node.func.attr, METHODS | own, (path, node.lineno))
                     self.assertEqual(node.keywords, [], (path, node.lineno))
 
     def test_comparisons(self):
@@ -210,6 +218,14 @@ class Interface(unittest.TestCase):
         "texts": "read_polynomial(n,text) write_polynomial(n,p) write_system(n,system) read_system(n,text)",
         "single": "divided(p,q) common_divisor(p,q) simple_part(p) parts(p)",
         "real": "chain(p) changes(chain,x) count_roots(p,low,high) root_bound(p) isolated(p) refined(p,interval,bits)",
+        "bernstein": "bernstein(p,low,high) halved(coefficients)",
+        "combs": "variations(p,low,high) check_comb(p,low,high,value) comb(p,low,high,depth) comb_count(p,low,high,comb)",
+        "roots": "is_root(value) root_of(x) roots_of(p) compare_roots(r,s) compare_root(r,x) sign_at(q,r) floor_of(r) "
+                 "near(r,bits) negative_root(r) shifted_root(r,x) scaled_root(r,x) inverse_root(r)",
+        "boxes": "is_box(n,value) box_has(box,point) box_within(box,other) box_inside(box,other) box_middle(box) "
+                 "box_widths(box) longest(box) halves(box,k) box_hull(box,other) widened(box) box_rounded(box,bits) "
+                 "box_meeting(box,other) corners(box)",
+        "bounds": "natural(p,box) centered(p,box) bounds(p,box) slopes(system,box)",
     }
 
     def test_each_name_is_defined_in_its_file(self):

@@ -3,13 +3,20 @@
 import signal
 import unittest
 
-from helpers import Maker, from_factors, num, uni
+from helpers import Maker, from_factors, num, q, uni
+from rootfast.bernstein import bernstein, halved
+from rootfast.bounds import bounds, slopes
+from rootfast.combs import check_comb, comb, comb_count, variations
 from rootfast.intervals import power_of, product_of, rounded
 from rootfast.matrices import determinant, inverse, rank
 from rootfast.polynomials import (
     added, degree, derivative, fixed, is_polynomial, moved, multiplied, polynomial, raised, value_at,
 )
 from rootfast.real import chain, changes, count_roots, isolated, refined, root_bound
+from rootfast.roots import (
+    compare_root, compare_roots, floor_of, inverse_root, is_root, near, negative_root, roots_of, scaled_root, shifted_root,
+    sign_at,
+)
 from rootfast.single import common_divisor, divided, parts, simple_part
 from rootfast.systems import jacobian, values_at
 from rootfast.texts import read_polynomial, read_system, write_polynomial, write_system
@@ -28,6 +35,14 @@ class Soon(unittest.TestCase):
 
     def tearDown(self):
         signal.alarm(0)
+
+
+def figured(maker, n, terms, most):
+    """A polynomial with so many terms, or all that there are, and coefficients of six figures."""
+    table = {}
+    while len(table) < min(terms, (most + 1) ** n):
+        table[tuple(maker.random.randint(0, most) for _ in range(n))] = maker.figures(6)
+    return tuple((e, table[e]) for e in sorted(table))
 
 
 class Polynomials(Soon):
@@ -138,6 +153,46 @@ class OneVariable(Soon):
         p = from_factors(*[[-k, 1] for k in range(1, 15)])
         self.assertEqual(len(isolated(p)), 14)
         self.assertEqual(count_roots(p, (3, 1), (10, 1)), 7)
+
+    def test_combs(self):
+        maker = Maker(31)
+        for p in (self.dense(maker, 25), self.dense(maker, 25, True), from_factors(*[[-1, 3]] * 24, [0, 1])):
+            bound = (root_bound(p), 1)
+            variations(p, (-7, 3), bound)
+            found = comb(p, (-7, 3), bound, 40)
+            self.assertTrue(check_comb(p, (-7, 3), bound, found))
+            comb_count(p, (-7, 3), bound, found)
+            coefficients = bernstein(p, maker.figures(15), (bound[0] + 10 ** 16, 1))
+            self.assertEqual(len(coefficients), 26)
+            halved(halved(coefficients)[0])
+
+    def test_roots(self):
+        maker = Maker(32)
+        p, other = self.dense(maker, 25), self.dense(maker, 24)
+        mine, more = roots_of(p), roots_of(multiplied(self.dense(maker, 5), from_factors(*[[-1, 3]] * 20)))
+        self.assertTrue(mine and more)
+        for r in mine[:2] + more[-2:]:
+            self.assertTrue(is_root(r))
+            floor_of(r)
+            near(r, 40)
+            compare_root(r, maker.figures(15))
+            self.assertEqual([sign_at(p, r) == 0, abs(sign_at(other, r))], [r in mine, 1])
+            for s in mine + more:
+                self.assertEqual(compare_roots(r, s), -compare_roots(s, r))
+            for s in (negative_root(r), shifted_root(r, maker.figures(15)), scaled_root(r, maker.figures(15)), inverse_root(r)):
+                self.assertTrue(is_root(s))
+                self.assertEqual(compare_roots(s, s), 0)
+
+
+class Boxes(Soon):
+    def test_bounds(self):
+        maker = Maker(33)
+        for n in (1, 2, 3, 4):
+            system = tuple(figured(maker, n, 15, 4) for _ in range(n))
+            box = tuple(tuple(sorted([maker.figures(6), maker.figures(6)], key=q)) for _ in range(n))
+            slopes(system, box)
+            for p in system:
+                bounds(p, box)
 
 
 if __name__ == "__main__":
