@@ -8,14 +8,20 @@ from rootfast.bernstein import bernstein, halved
 from rootfast.bounds import bounds, centered, natural
 from rootfast.boxes import widened
 from rootfast.combs import comb, variations
+from rootfast.hunts import Hunt
 from rootfast.intervals import power_of, rounded
 from rootfast.matrices import inverse
 from rootfast.numbers import number, over
+from rootfast.papers import free_index, krawczyk, single_paper
+from rootfast.paths import straight, track
 from rootfast.polynomials import moved, multiplied
 from rootfast.real import count_roots, root_bound
 from rootfast.roots import floor_of, roots_of, sign_at
 from rootfast.single import parts
 from rootfast.texts import read_polynomial, write_polynomial
+from rootfast.trees import search
+
+SQUARE = ((((0,), (-2, 1)), ((2,), (1, 1))),)
 
 
 class Examples(unittest.TestCase):
@@ -84,6 +90,27 @@ class Examples(unittest.TestCase):
         box = (((0, 1), (1, 1)),)
         found = [natural(p, box), centered(p, box), bounds(p, box)]
         self.assertEqual(found, [((-1, 1), (1, 1)), ((-1, 2), (0, 1)), ((-1, 2), (0, 1))])
+
+    def test_papers(self):
+        found = [single_paper(SQUARE, (((1, 1), (2, 1)),)), krawczyk(SQUARE, (((1, 1), (2, 1)),), (((1, 3),),))]
+        self.assertEqual(found, [(((1, 3),),), (((5, 4), (19, 12)),)])
+        self.assertEqual(free_index(SQUARE, (((2, 1), (3, 1)),)), 0)
+
+    def test_trees(self):
+        self.assertEqual(search(SQUARE, (((0, 1), (2, 1)),), 1), ("halve", 0, ("free", 0), ("single", (((1, 3),),))))
+
+    def test_hunts(self):
+        hunt = Hunt(SQUARE, (((0, 1), (2, 1)),), 1)
+        found = [hunt.work(""), hunt.work("1"), hunt.open_places(), hunt.text()]
+        self.assertEqual(found, ["halve", "single", ["0"], "[0] open\n[1] single 1/3\n"])
+
+    def test_paths(self):
+        found = straight(1, ((((0,), (-1, 1)), ((1,), (1, 1))),), ((((0,), (-2, 1)), ((1,), (1, 1))),))
+        family = ((((0, 0), (-1, 1)), ((0, 1), (-1, 1)), ((1, 0), (1, 1))),)
+        self.assertEqual(found, family)
+        first = ((0, 1), (1, 2), (((0, 1), (2, 1)),), (((1, 1),),))
+        second = ((1, 2), (1, 1), (((1, 2), (5, 2)),), (((1, 1),),))
+        self.assertEqual(track(1, family, (((0, 1), (2, 1)),), (((1, 1),),), 5), ("whole", (first, second)))
 
 
 if __name__ == "__main__":

@@ -5,7 +5,8 @@ import unittest
 
 from helpers import box_of, iv, strange_values, uni
 from rootfast import (
-    bernstein, bounds, boxes, combs, intervals, matrices, numbers, polynomials, real, roots, single, systems, texts,
+    bernstein, bounds, boxes, combs, hunts, intervals, matrices, numbers, papers, paths, polynomials, real, roots, single,
+    systems, texts, trees,
 )
 
 TWO = uni(-2, 0, 1)
@@ -15,6 +16,14 @@ MATRIX = (((0, 1), (1, 2)), ((3, 1), (1, 1)))
 ROOT = (TWO, iv(1, 2))
 SQUARE = box_of((0, 1), (-1, 2))
 OTHER = box_of((0, 1), (0, 1))
+SYSTEM = (TWO,)
+THIRD = (((1, 3),),)
+BOX = (iv(1, 2),)
+WIDE = (iv(0, 2),)
+TREE = ("halve", 0, ("free", 0), ("single", THIRD))
+FAMILY = ((((0, 0), (-1, 1)), ((0, 1), (-1, 1)), ((1, 0), (1, 1))),)
+ONE = (((1, 1),),)
+TUBE = (((0, 1), (1, 2), WIDE, ONE), ((1, 2), (1, 1), (iv(1, 3),), ONE))
 
 # Each function of the interface with arguments, and what its result is made of.
 CALLS = [
@@ -59,22 +68,36 @@ CALLS = [
     (boxes.box_rounded, (SQUARE, 3)), (boxes.box_meeting, (SQUARE, OTHER)), (boxes.corners, (SQUARE,)),
     (bounds.natural, (CIRCLE, SQUARE)), (bounds.centered, (CIRCLE, SQUARE)), (bounds.bounds, (CIRCLE, SQUARE)),
     (bounds.slopes, ((CIRCLE, LINE), SQUARE)),
+    (papers.is_free, (SYSTEM, BOX, 0)), (papers.is_single, (SYSTEM, BOX, THIRD)), (papers.is_cover, (SYSTEM, BOX, THIRD)),
+    (papers.same_zero, (SYSTEM, BOX, THIRD, BOX, THIRD)), (papers.free_index, (SYSTEM, (iv(2, 3),))),
+    (papers.krawczyk, (SYSTEM, BOX, THIRD)), (papers.narrowed, (SYSTEM, BOX, THIRD, 9)), (papers.single_paper, (SYSTEM, BOX)),
+    (papers.cover_paper, (SYSTEM, BOX)),
+    (trees.check_tree, (SYSTEM, WIDE, TREE)), (trees.search, (SYSTEM, WIDE, 1)), (trees.told, (WIDE, TREE)),
+    (trees.rest, (WIDE, ("rest",))), (trees.different, (SYSTEM, [(BOX, THIRD), (BOX, THIRD)])),
+    (trees.zeros_within, (SYSTEM, WIDE, 1)), (trees.tree_counts, (TREE,)), (trees.tree_depth, (TREE,)),
+    (paths.is_family, (1, FAMILY)), (paths.check_tube, (1, FAMILY, TUBE)), (paths.at_time, (1, FAMILY, (1, 2))),
+    (paths.straight, (1, SYSTEM, SYSTEM)), (paths.krawczyk_over, (1, FAMILY, iv(0, 1), WIDE, ONE)),
+    (paths.zero_at, (1, FAMILY, TUBE, (1, 2), 9)), (paths.track, (1, FAMILY, WIDE, ONE, 5)), (paths.joined, (TUBE, TUBE)),
+    (paths.cut, (TUBE, (1, 3))), (paths.end_boxes, (1, FAMILY, TUBE, 9)),
+    (hunts.Hunt, (SYSTEM, WIDE, 1)), (hunts.restored, (SYSTEM, WIDE, 1, "[0] open\n[1] single 1/3\n")),
 ]
 
-LISTS = {"parts", "chain", "isolated", "roots_of", "corners"}
+LISTS = {"parts", "chain", "isolated", "roots_of", "corners", "told", "rest", "different"}
 TELLING = {
     "is_number", "is_interval", "has", "lies_within", "lies_inside", "is_polynomial", "is_system", "is_matrix", "check_comb",
-    "is_root", "is_box", "box_has", "box_within", "box_inside",
+    "is_root", "is_box", "box_has", "box_within", "box_inside", "is_free", "is_single", "is_cover", "same_zero", "check_tree",
+    "is_family", "check_tube",
 }
 INTEGERS = {
     "compare", "sign_of", "degree", "degree_in", "rank", "changes", "count_roots", "root_bound", "variations", "comb_count",
-    "compare_roots", "compare_root", "sign_at", "floor_of", "longest",
+    "compare_roots", "compare_root", "sign_at", "floor_of", "longest", "free_index", "tree_depth",
 }
+HUNTS = {"Hunt", "restored"}
 TEXTS = {"write_number", "write_polynomial", "write_system"}
 
 
 def kind_of(name):
-    for kind, names in ((list, LISTS), (bool, TELLING), (int, INTEGERS), (str, TEXTS)):
+    for kind, names in ((list, LISTS), (bool, TELLING), (int, INTEGERS), (str, TEXTS), (hunts.Hunt, HUNTS)):
         if name in names:
             return kind
     return tuple
@@ -87,6 +110,11 @@ def plain_tuples_within(value):
     return type(value) in (int, str)
 
 
+def comparable(value):
+    """What a result is compared by: a hunt has no equality of its own."""
+    return value.text() if type(value) is hunts.Hunt else value
+
+
 class Everywhere(unittest.TestCase):
     def test_arguments_stay(self):
         for function, arguments in CALLS:
@@ -96,12 +124,16 @@ class Everywhere(unittest.TestCase):
 
     def test_same_results(self):
         for function, arguments in CALLS:
-            self.assertEqual(function(*arguments), function(*copy.deepcopy(arguments)), function.__name__)
+            first, second = function(*arguments), function(*copy.deepcopy(arguments))
+            self.assertEqual(comparable(first), comparable(second), function.__name__)
 
     def test_kinds_of_results(self):
         for function, arguments in CALLS:
             result = function(*arguments)
             self.assertIs(type(result), kind_of(function.__name__), function.__name__)
+            if function is trees.zeros_within:
+                self.assertEqual([type(x) for x in result], [list] * 3)
+                result = sum(result, [])
             if type(result) in (list, tuple):
                 self.assertTrue(plain_tuples_within(tuple(result)), function.__name__)
 
@@ -134,6 +166,20 @@ class Everywhere(unittest.TestCase):
         self.assertIs(boxes.is_box(1, (((False, 1), (1, 1)),)), False)
         self.assertIs(roots.is_root((uni(0, 1), ((0, True), (0, True)))), False)
         self.assertIs(combs.check_comb(TWO, (0, 1), (1, 1), True), False)
+        self.assertIs(papers.is_single((uni(0, 1),), (iv(-1, 1),), (((True, 1),),)), False)
+        self.assertIs(papers.is_cover((uni(0, 1),), (iv(-1, 1),), (((1, True),),)), False)
+        self.assertIs(trees.check_tree(SYSTEM, (iv(2, 3),), ("free", False)), False)
+        self.assertIs(paths.is_family(1, ((((1, 0), (True, 1)),),)), False)
+        self.assertIs(paths.check_tube(1, FAMILY, (((False, 1), (1, 2), WIDE, ONE),)), False)
+
+    def test_objects_copy_and_lists_stay_apart(self):
+        pairs = [(BOX, THIRD)]
+        found = trees.different(SYSTEM, pairs)
+        found.append(None)
+        self.assertEqual(pairs, [(BOX, THIRD)])
+        inner, edge, left = trees.zeros_within(SYSTEM, WIDE, 1)
+        inner.append(None)
+        self.assertNotIn(None, trees.zeros_within(SYSTEM, WIDE, 1)[0])
 
 
 if __name__ == "__main__":

@@ -201,6 +201,10 @@ class Form(unittest.TestCase):
                     self.assertRegex(line[node.col_offset:], r"^type\([a-z_]+\) (==|!=) (int|tuple|list|str)\b")
 
 
+def parameters(function):
+    return list(function.__code__.co_varnames[:function.__code__.co_argcount])
+
+
 class Interface(unittest.TestCase):
     names = {
         "errors": "RootfastError BadNumber BadText NoPlace NoZero NotUpright Endless BadLine",
@@ -226,6 +230,19 @@ class Interface(unittest.TestCase):
                  "box_widths(box) longest(box) halves(box,k) box_hull(box,other) widened(box) box_rounded(box,bits) "
                  "box_meeting(box,other) corners(box)",
         "bounds": "natural(p,box) centered(p,box) bounds(p,box) slopes(system,box)",
+        "papers": "is_free(system,box,k) is_single(system,box,value) is_cover(system,box,value) "
+                  "same_zero(system,box,A,other,B) free_index(system,box) krawczyk(system,box,A) "
+                  "narrowed(system,box,A,bits) single_paper(system,box) cover_paper(system,box)",
+        "trees": "check_tree(system,box,value) search(system,box,depth) told(box,tree) rest(box,tree) "
+                 "different(system,pairs) zeros_within(system,box,depth) tree_counts(tree) tree_depth(tree)",
+        "hunts": "Hunt restored(system,box,depth,text)",
+        "paths": "is_family(n,value) check_tube(n,family,value) at_time(n,family,t) straight(n,start,goal) "
+                 "krawczyk_over(n,family,span,box,A) zero_at(n,family,tube,t,bits) track(n,family,box,A,most) "
+                 "joined(first,second) cut(tube,t) end_boxes(n,family,tube,bits)",
+    }
+    methods = {
+        ("hunts", "Hunt"): "__init__(self,system,box,depth) open_places(self) work(self,place) box_at(self,place) "
+                           "is_done(self) tree(self) counts(self) text(self)",
     }
 
     def test_each_name_is_defined_in_its_file(self):
@@ -236,7 +253,14 @@ class Interface(unittest.TestCase):
                 found = getattr(module, name)
                 self.assertEqual(found.__module__, "rootfast." + file)
                 if arguments:
-                    self.assertEqual(list(found.__code__.co_varnames[:found.__code__.co_argcount]), arguments.split(","))
+                    self.assertEqual(parameters(found), arguments.split(","))
+
+    def test_each_method_is_defined_in_its_class(self):
+        for (file, name), told in self.methods.items():
+            found = getattr(importlib.import_module("rootfast." + file), name)
+            for call in told.split():
+                method, _, arguments = call.rstrip(")").partition("(")
+                self.assertEqual(parameters(vars(found)[method]), arguments.split(","))
 
 
 if __name__ == "__main__":

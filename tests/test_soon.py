@@ -2,15 +2,20 @@
 
 import signal
 import unittest
+from fractions import Fraction
 
-from helpers import Maker, from_factors, num, q, uni
+from helpers import Maker, around, box_of, from_factors, nested, num, q, system_of, uni
 from rootfast.bernstein import bernstein, halved
 from rootfast.bounds import bounds, slopes
+from rootfast.boxes import box_middle, box_widths, widened
 from rootfast.combs import check_comb, comb, comb_count, variations
+from rootfast.hunts import Hunt, restored
 from rootfast.intervals import power_of, product_of, rounded
 from rootfast.matrices import determinant, inverse, rank
+from rootfast.papers import cover_paper, is_cover, is_single, narrowed, same_zero, single_paper
+from rootfast.paths import check_tube, cut, end_boxes, joined, track, zero_at
 from rootfast.polynomials import (
-    added, degree, derivative, fixed, is_polynomial, moved, multiplied, polynomial, raised, value_at,
+    added, constant, degree, derivative, fixed, is_polynomial, moved, multiplied, polynomial, raised, subtracted, value_at,
 )
 from rootfast.real import chain, changes, count_roots, isolated, refined, root_bound
 from rootfast.roots import (
@@ -20,6 +25,7 @@ from rootfast.roots import (
 from rootfast.single import common_divisor, divided, parts, simple_part
 from rootfast.systems import jacobian, values_at
 from rootfast.texts import read_polynomial, read_system, write_polynomial, write_system
+from rootfast.trees import check_tree, different, rest, search, told, tree_counts, tree_depth, zeros_within
 
 SECONDS = 60
 
@@ -184,15 +190,124 @@ class OneVariable(Soon):
                 self.assertEqual(compare_roots(s, s), 0)
 
 
+def figured_box(maker, n):
+    """A box whose ends have six figures."""
+    return tuple(tuple(sorted([maker.figures(6), maker.figures(6)], key=q)) for _ in range(n))
+
+
+def with_zero(maker, n, variables, most):
+    """Polynomials as great as told, with a zero at a point of n coordinates and, behind that, zeros."""
+    point = maker.point(n)
+    behind = point + ((0, 1),) * (variables - n)
+    system = [figured(maker, variables, 15, most) for _ in range(n)]
+    return tuple(subtracted(p, constant(variables, value_at(p, behind))) for p in system), point
+
+
+def certified(system, point):
+    """A box around a zero with a right single paper, as great as a few tries tell, and this paper; or None."""
+    for k in range(40):
+        box = around([q(x) for x in point], Fraction(4, 3 ** k))
+        A = single_paper(system, box)
+        if A is not None:
+            return box, A
+    return None
+
+
 class Boxes(Soon):
     def test_bounds(self):
         maker = Maker(33)
         for n in (1, 2, 3, 4):
             system = tuple(figured(maker, n, 15, 4) for _ in range(n))
-            box = tuple(tuple(sorted([maker.figures(6), maker.figures(6)], key=q)) for _ in range(n))
+            box = figured_box(maker, n)
             slopes(system, box)
             for p in system:
                 bounds(p, box)
+            single_paper(system, box)
+            cover_paper(system, box)
+
+    def test_papers(self):
+        maker = Maker(34)
+        for n in (1, 2, 3, 4):
+            for _ in range(3):
+                system, point = with_zero(maker, n, n, 4)
+                found = certified(system, point)
+                if found is not None:
+                    box, A = found
+                    small = narrowed(system, box, A, 40)
+                    self.assertTrue(all(q(width) <= Fraction(1, 2 ** 40) for width in box_widths(small)))
+                    other = widened(narrowed(system, box, A, 12))
+                    B = single_paper(system, other)
+                    self.assertTrue(B is None or same_zero(system, box, A, other, B))
+                    is_cover(system, box, maker.matrix(n, n))
+
+    def test_flat_slopes_in_four_variables(self):
+        system = system_of(4, *[f"{name}^3 + 1/999999*{name}" for name in "xyzu"])
+        A = tuple(tuple(num(1, 4) if i == j else num(0) for j in range(4)) for i in range(4))
+        box = around([0] * 4, 1)
+        self.assertTrue(is_single(system, box, A))
+        narrowed(system, box, A, 40)
+
+    def test_searches(self):
+        maker = Maker(35)
+        for n, depth in ((1, 6), (2, 5), (3, 3), (4, 1)):
+            for box in (figured_box(maker, n), around([Fraction(1, 3)] * n, Fraction(7, 3)), around([0] * n, 1)):
+                system = tuple(figured(maker, n, 15, 3) for _ in range(n))
+                tree = search(system, box, depth)
+                self.assertTrue(check_tree(system, box, tree))
+                zeros_within(system, box, depth)
+                hunt = Hunt(system, box, depth)
+                while not hunt.is_done():
+                    hunt.work(hunt.open_places()[-1])
+                self.assertEqual(restored(system, box, depth, hunt.text()).tree(), tree)
+
+    def test_many_zeros(self):
+        for n, depth in ((1, 6), (2, 5), (3, 3)):
+            system = system_of(n, *[f"{name}^3 - {name}" for name in "xyz"[:n]])
+            box = box_of(*[(Fraction(-123457, 98765), Fraction(135791, 98765))] * n)
+            zeros_within(system, box, depth)
+            tree = search(system, box, depth)
+            self.assertEqual(len(different(system, told(box, tree))), len(zeros_within(system, box, depth)[0]))
+
+    def test_trees_with_a_hundred_leaves(self):
+        maker = Maker(36)
+        for n in (1, 2, 3, 4):
+            system, point = with_zero(maker, n, n, 4)
+            found = certified(system, point)
+            if found is None:
+                continue
+            box, A = found
+            # The widened box is that with the paper.
+            half = around([q(x) for x in box_middle(box)], q(box_widths(box)[0]) / 4)
+            tree = nested(99, lambda v: ("halve", 0, ("rest",), v or ("rest",)))
+            self.assertFalse(check_tree(system, half, tree))
+            self.assertEqual([tree_counts(tree), tree_depth(tree)], [(0, 0, 100, 99), 99])
+            self.assertTrue(check_tree(system, half, ("single", A)))
+            deep = nested(40, lambda v: ("halve", n - 1, v or ("rest",), ("rest",)))
+            self.assertTrue(check_tree(system, half, deep))
+            self.assertEqual(len(rest(half, deep)), 41)
+
+
+class Paths(Soon):
+    def test_tubes(self):
+        maker = Maker(37)
+        made = 0
+        for n, most in ((1, 8), (2, 3)):
+            for _ in range(6):
+                family, point = with_zero(maker, n, n + 1, 4)
+                start = tuple(fixed(n + 1, p, n, (0, 1)) for p in family)
+                found = certified(start, point)
+                if found is None:
+                    continue
+                word, tube = track(n, family, found[0], found[1], most)
+                if tube:
+                    made += 1
+                    self.assertTrue(check_tube(n, family, tube))
+                    end_boxes(n, family, tube, 40)
+                    middle = num((q(tube[0][0]) + q(tube[-1][1])) / 2)
+                    zero_at(n, family, tube, middle, 40)
+                    first, second = cut(tube, middle)
+                    self.assertTrue(check_tube(n, family, joined(first, second)))
+        self.assertGreater(made, 3)
 
 
 if __name__ == "__main__":
