@@ -380,6 +380,13 @@ class Same(unittest.TestCase):
         around_up, around_right = around([0, 1], Fraction(1, 5)), around([1, 0], Fraction(1, 5))
         self.check(crossed, around_up, around_right, False)
 
+    def test_zeros_very_near_to_the_boundary(self):
+        plain = (uni(Fraction(-1, 3), 1),)
+        for gap in (Fraction(1, 2 ** 10), Fraction(1, 2 ** 40), Fraction(1, 2 ** 90)):
+            below, above = box_of((0, Fraction(1, 3) + gap)), box_of((Fraction(1, 3) - gap, 1))
+            self.check(plain, below, above, True, ONE, ONE)
+            self.check(plain, below, box_of((-1, Fraction(1, 3) + gap / 2)), True, ONE, ONE)
+
     def test_near_zeros(self):
         for gap in (Fraction(1, 10 ** 6), Fraction(1, 10 ** 20)):
             pair = (uni(-gap * gap, 0, 1),)

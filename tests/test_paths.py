@@ -341,6 +341,17 @@ class Tracking(unittest.TestCase):
         broad = system_of(2, "1/1000*x - y")
         self.assertEqual(self.check(1, broad, box_of((-9, 9)), ONE, 3), ("none", ()))
 
+    def test_the_least_boxes_and_spans(self):
+        # The slope changes so soon that only boxes of this size hold, with the last ones being tried.
+        for size, word in ((14, "whole"), (15, "none")):
+            bent = ((((1, 0), (1, 1)), ((2, 0), num(3 * 2 ** (size - 3)))),)
+            box = around([0], Fraction(1, 2 ** 20))
+            word, tube = self.check(1, bent, box, ONE, 3, word)
+            self.assertEqual([step[2] for step in tube], [around([0], Fraction(1, 2 ** 14))] * len(tube))
+        for speed, word in ((3000, "part"), (6000, "none")):
+            word, tube = self.check(1, ((((0, 1), num(-speed)), ((1, 0), (1, 1))),), box_of((-1, 1)), ONE, 1, word)
+            self.assertEqual([step[1] for step in tube], [num(1, 2 ** 12)] * len(tube))
+
     def test_more_variables(self):
         turning = system_of(3, "x^2 + y^2 - 2", "x - y - 1/2*z")
         box = around([1, 1], Fraction(1, 4))

@@ -55,7 +55,8 @@ class Telling(unittest.TestCase):
         for r in (
             (TWO, iv(0, 1)), (TWO, iv(-2, 2)), (TWO, iv(2, 3)), (TWO, iv(1, 1)), (TWO, ((2, 1), (1, 1))), (uni(1, 0, 1), iv(-1, 1)),
             (uni(0, -1, 0, 1), iv(-1, 1)), (uni(0, -1, 0, 1), iv(0, Fraction(1, 2))), (uni(0, -1, 0, 1), iv(Fraction(1, 2), 1)),
-            (uni(0, -1, 0, 1), iv(0, 1)), (uni(0, 1), iv(0, 1)), (uni(0, 1), iv(-1, 0)), (TWO, [(1, 1), (2, 1)]), (TWO, ((1, 1),)),
+            (uni(0, -1, 0, 1), iv(0, 1)), (uni(0, -1, 0, 1), iv(Fraction(-1, 2), 1)), (uni(0, -1, 0, 1), iv(-1, Fraction(1, 2))),
+            (uni(0, 1), iv(0, 1)), (uni(0, 1), iv(-1, 0)), (TWO, [(1, 1), (2, 1)]), (TWO, ((1, 1),)),
             (TWO, ((True, 1), (2, 1))), (TWO, (1, 2)), (TWO, None),
         ):
             self.assertIs(is_root(r), False, r)

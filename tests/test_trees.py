@@ -201,7 +201,6 @@ class Different(unittest.TestCase):
             homes = [(wide, A) for wide, A in pairs if box_within(box, wide)]
             self.assertTrue(homes)
             self.assertIsNotNone(box_meeting(box, narrowed(system, *homes[0], 60)))
-            self.assertIs(box_meeting(box, narrowed(system, *homes[0], 60)) is not None, True)
         for wide, A in pairs:
             zero = narrowed(system, wide, A, 60)
             self.assertEqual(len([box for box in found if box_meeting(box, zero) is not None]), 1)
@@ -222,6 +221,12 @@ class Different(unittest.TestCase):
             pair = (uni(-gap * gap, 0, 1),)
             boxes = [box_of((gap / 5, 2 * gap)), box_of((-2 * gap, -gap / 5))]
             self.check(pair, [(box, single_paper(pair, box)) for box in boxes], 2)
+
+    def test_one_zero_at_the_ends_of_both_boxes(self):
+        plain = (uni(Fraction(-1, 3), 1),)
+        for gap in (Fraction(1, 2 ** 10), Fraction(1, 2 ** 40)):
+            boxes = [box_of((0, Fraction(1, 3) + gap)), box_of((Fraction(1, 3) - gap, 1))]
+            self.check(plain, [(box, (((1, 1),),)) for box in boxes], 1)
 
     def test_told_boxes_of_a_search(self):
         for system, box, depth, many in (
