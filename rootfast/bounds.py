@@ -47,10 +47,10 @@ def _whole_problem(p, box):
     """The triple of the ends of a box and the terms of p in integers, and what the values were multiplied by."""
     ends = []
     rows = []
-    for k, ((a, b), (c, d)) in enumerate(box):
+    for k, (low, high) in enumerate(box):
         # Twice, so that the middle is an integer, too.
-        factor = 2 * lcm(b, d)
-        ends.append((a * (factor // b), c * (factor // d)))
+        factor = 2 * lcm(low[1], high[1])
+        ends.append((low[0] * (factor // low[1]), high[0] * (factor // high[1])))
         rows.append(_powers(factor, max(degree_in(p, k), 0)))
     below = 1
     for _, coefficient in p:
