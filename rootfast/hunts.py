@@ -2,8 +2,7 @@
 
 from rootfast.boxes import halves
 from rootfast.errors import BadText, NoPlace
-from rootfast.numbers import write_number
-from rootfast.trees import looked_at
+from rootfast.trees import leaf_words, looked_at
 
 
 class Hunt:
@@ -64,19 +63,10 @@ class Hunt:
         """The text of the hunt."""
         lines = []
         for place in sorted(list(self._boxes)):
-            words = _words_for(self._known.get(place, ("open",)))
+            words = leaf_words(self._known.get(place, ("open",)))
             if words[0] != "halve":
                 lines.append(f"[{place}] " + " ".join(words) + "\n")
         return "".join(lines)
-
-
-def _words_for(found):
-    """The list of the words of a text for what was found at a place."""
-    if found[0] == "free":
-        return ["free", str(found[1])]
-    if found[0] == "single":
-        return ["single"] + [write_number(x) for row in found[1] for x in row]
-    return [found[0]]
 
 
 def restored(system, box, depth, text):

@@ -37,19 +37,24 @@ def determinant(matrix):
 
 def rank(matrix):
     """The rank of a matrix."""
-    rows, _ = _whole_rows(matrix)
     columns = len(matrix[0])
+    return columns - len(null_vectors(_whole_rows(matrix)[0], columns))
+
+
+def null_vectors(rows, columns):
+    """The list of vectors of integers that span all that a list of rows of integers turns into 0."""
     # The vectors span all that is turned into 0 by the rows looked at so far: where many rows depend
     # on others, looking at a row so costs little.
     vectors = [[1 if i == k else 0 for i in range(columns)] for k in range(columns)]
     for row in rows:
         vectors = _turned_to_zero(vectors, row)
-    return columns - len(vectors)
+    return vectors
 
 
 def _turned_to_zero(vectors, row):
     """A list of vectors that span what the row turns into 0, of all that some vectors span."""
-    sums = [sum([a * b for a, b in zip(row, vector)]) for vector in vectors]
+    entries = [(k, a) for k, a in enumerate(row) if a != 0]
+    sums = [sum([a * vector[k] for k, a in entries]) for vector in vectors]
     at = 0
     while at < len(sums) and sums[at] == 0:
         at += 1

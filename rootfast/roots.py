@@ -22,6 +22,11 @@ def is_root(value):
         return False
     if degree(p) < 1 or p[-1][1] != _ONE or simple_part(p) != p:
         return False
+    return has_one_root(p, interval)
+
+
+def has_one_root(p, interval):
+    """True if p, without multiple roots, has exactly one root in an interval, and none as an end of a wide one."""
     f = wholes_of(p)
     low, high = interval
     if low == high:

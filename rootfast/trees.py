@@ -1,6 +1,7 @@
 """Trees of halvings: searched boxes, with a paper for each part."""
 
 from rootfast.boxes import box_meeting, box_within, halves, longest, widened
+from rootfast.numbers import write_number
 from rootfast.papers import closer, free_index, is_free, is_single, narrowed, same_zero, single_paper, told_same
 
 _MOST_HALVINGS = 40
@@ -67,6 +68,15 @@ def looked_at(system, box, depth):
     return ("halve", longest(box))
 
 
+def leaf_words(leaf):
+    """The list of the words of the text of a leaf."""
+    if leaf[0] == "free":
+        return ["free", str(leaf[1])]
+    if leaf[0] == "single":
+        return ["single"] + [write_number(x) for row in leaf[1] for x in row]
+    return [leaf[0]]
+
+
 def told(box, tree):
     """The list of the pairs (wide, A) of the told boxes of a right tree, from left to right."""
     return [(widened(part), leaf[1]) for part, leaf in _leaves(box, tree) if leaf[0] == "single"]
@@ -100,6 +110,11 @@ def different(system, pairs):
         if not any([_has_same_zero(system, row, other) for other in rows]):
             rows.append(row)
     return _set_apart(system, [row[0] for row in rows])
+
+
+def told_and_rest(system, box, tree):
+    """The pair of the numbers of different zeros of the told boxes and of boxes of the rest of a right tree."""
+    return len(different(system, told(box, tree))), len(rest(box, tree))
 
 
 def _has_same_zero(system, row, other):

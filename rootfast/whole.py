@@ -149,3 +149,72 @@ def _read_off(value, point):
         f.append(c)
         value = (value - c) // point
     return f
+
+
+def rational_multiples(f):
+    """The ascending list of the integers that are the last item of f times a rational root of f.
+
+    f has no multiple root, its items no common divisor, and its last item is greater than 0.
+    """
+    # A root modulo an integer that is single there is one modulo its powers, too, in one way only. So
+    # the integers sought are known modulo a power that is greater than any of them.
+    limit = 4 * _greatest_size(f)
+    start, pairs = _single_roots_modulo(f)
+    found = []
+    for root, turned in pairs:
+        root, modulus = _lifted(f, root, turned, start, limit)
+        c = f[-1] * root % modulus
+        if 2 * c > modulus:
+            c -= modulus
+        if sign_at_number(f, (c, f[-1])) == 0:
+            found.append(c)
+    return sorted(found)
+
+
+def _single_roots_modulo(f):
+    """An integer, and the list of the roots modulo it, all single, each with the inverse of the slope there."""
+    modulus = 3
+    while True:
+        if gcd(f[-1], modulus) == 1:
+            pairs = _roots_modulo(f, modulus)
+            if pairs is not None:
+                return modulus, pairs
+        modulus += 2
+
+
+def _roots_modulo(f, modulus):
+    """The list of the pairs of the roots and the inverses of the slopes, or None if there is one without."""
+    rest = [c % modulus for c in f]
+    slope = slope_of(rest)
+    found = []
+    for x in range(modulus):
+        if _value_modulo(rest, x, modulus) == 0:
+            turned = _inverse_modulo(_value_modulo(slope, x, modulus), modulus)
+            if turned is None:
+                return None
+            found.append((x, turned))
+    return found
+
+
+def _value_modulo(f, x, modulus):
+    total = 0
+    for c in reversed(f):
+        total = (total * x + c) % modulus
+    return total
+
+
+def _inverse_modulo(a, modulus):
+    for b in range(modulus):
+        if a * b % modulus == 1:
+            return b
+    return None
+
+
+def _lifted(f, root, turned, modulus, limit):
+    """The root modulo a power of the modulus that is greater than the limit, and this power."""
+    slope = slope_of(f)
+    while modulus <= limit:
+        modulus = modulus * modulus
+        root = (root - _value_modulo(f, root, modulus) * turned) % modulus
+        turned = turned * (2 - _value_modulo(slope, root, modulus) * turned) % modulus
+    return root, modulus

@@ -7,10 +7,13 @@ import unittest
 from rootfast.bernstein import bernstein, halved
 from rootfast.bounds import bounds, centered, natural
 from rootfast.boxes import widened
+from rootfast.claims import write_claim
 from rootfast.combs import comb, variations
+from rootfast.elimination import resultant
 from rootfast.hunts import Hunt
 from rootfast.intervals import power_of, rounded
 from rootfast.matrices import inverse
+from rootfast.multiple import deflated, multiplicity
 from rootfast.numbers import number, over
 from rootfast.papers import free_index, krawczyk, single_paper
 from rootfast.paths import straight, track
@@ -20,8 +23,11 @@ from rootfast.roots import floor_of, roots_of, sign_at
 from rootfast.single import parts
 from rootfast.texts import read_polynomial, write_polynomial
 from rootfast.trees import search
+from rootfast.winding import walk, winding
 
 SQUARE = ((((0,), (-2, 1)), ((2,), (1, 1))),)
+CIRCLE = (((0, 0), (-2, 1)), ((0, 2), (1, 1)), ((2, 0), (1, 1)))
+LINE = (((0, 1), (-1, 1)), ((1, 0), (1, 1)))
 
 
 class Examples(unittest.TestCase):
@@ -111,6 +117,24 @@ class Examples(unittest.TestCase):
         first = ((0, 1), (1, 2), (((0, 1), (2, 1)),), (((1, 1),),))
         second = ((1, 2), (1, 1), (((1, 2), (5, 2)),), (((1, 1),),))
         self.assertEqual(track(1, family, (((0, 1), (2, 1)),), (((1, 1),),), 5), ("whole", (first, second)))
+
+    def test_multiple(self):
+        double = ((((2,), (1, 1)),),)
+        found = [multiplicity(1, double, ((0, 1),), 4), deflated(1, double, ((0, 1),))]
+        self.assertEqual(found, [2, ((((2,), (1, 1)),), (((1,), (2, 1)),))])
+
+    def test_elimination(self):
+        self.assertEqual(resultant(2, CIRCLE, LINE, 1), (((0,), (-2, 1)), ((2,), (2, 1))))
+
+    def test_winding(self):
+        plain = ((((1, 0), (1, 1)),), (((0, 1), (1, 1)),))
+        found = walk(plain, (((-1, 1), (1, 1)), ((-1, 1), (1, 1))), 0)
+        self.assertEqual(found, (("sign", 1, -1), ("sign", 0, 1), ("sign", 1, 1), ("sign", 0, -1)))
+        self.assertEqual(winding(found), 1)
+
+    def test_claims(self):
+        text = write_claim(SQUARE, (((2, 1), (3, 1)),), ("free", 0))
+        self.assertEqual(text, "variables 1\npolynomial x^2 - 2\nbox [2,3]\ntree free 0\n")
 
 
 if __name__ == "__main__":

@@ -5,8 +5,8 @@ import unittest
 
 from helpers import box_of, iv, strange_values, uni
 from rootfast import (
-    bernstein, bounds, boxes, combs, hunts, intervals, matrices, numbers, papers, paths, polynomials, real, roots, single,
-    systems, texts, trees,
+    bernstein, bounds, boxes, claims, combs, elimination, hunts, intervals, matrices, multiple, numbers, papers, paths,
+    polynomials, real, roots, single, sums, systems, texts, trees, winding,
 )
 
 TWO = uni(-2, 0, 1)
@@ -24,6 +24,11 @@ TREE = ("halve", 0, ("free", 0), ("single", THIRD))
 FAMILY = ((((0, 0), (-1, 1)), ((0, 1), (-1, 1)), ((1, 0), (1, 1))),)
 ONE = (((1, 1),),)
 TUBE = (((0, 1), (1, 2), WIDE, ONE), ((1, 2), (1, 1), (iv(1, 3),), ONE))
+ONES = ((1, 1), (1, 1))
+PAPER = ((((0, 0), (1, 1)),), (((0, 1), (1, 1)), ((1, 0), (1, 1))))
+AROUND = box_of((0, 2), (0, 2))
+WALK = winding.walk((CIRCLE, LINE), AROUND, 5)
+CLAIM = "variables 1\npolynomial x^2 - 2\nbox [0,2]\ntree halve 0 free 0 single 1/3\n"
 
 # Each function of the interface with arguments, and what its result is made of.
 CALLS = [
@@ -79,21 +84,36 @@ CALLS = [
     (paths.straight, (1, SYSTEM, SYSTEM)), (paths.krawczyk_over, (1, FAMILY, iv(0, 1), WIDE, ONE)),
     (paths.zero_at, (1, FAMILY, TUBE, (1, 2), 9)), (paths.track, (1, FAMILY, WIDE, ONE, 5)), (paths.joined, (TUBE, TUBE)),
     (paths.cut, (TUBE, (1, 3))), (paths.end_boxes, (1, FAMILY, TUBE, 9)),
+    (multiple.dual_size, (2, (CIRCLE, LINE), ONES, 2)), (multiple.multiplicity, (2, (CIRCLE, LINE), ONES, 2)),
+    (multiple.deflated, (2, (CIRCLE, CIRCLE), ONES)), (multiple.deflation, (1, (uni(0, 0, 1),), ((0, 1),), 2)),
+    (multiple.regular_part, (2, (CIRCLE, CIRCLE, LINE), ONES)),
+    (elimination.resultant, (2, CIRCLE, LINE, 1)), (elimination.check_elimination, (2, CIRCLE, LINE, 1, PAPER)),
+    (elimination.elimination_paper, (2, CIRCLE, LINE, 1)), (elimination.column_counts, (CIRCLE, LINE)),
+    (elimination.zero_count, (CIRCLE, LINE)), (elimination.zeros_above, (CIRCLE, LINE, (1, 1))),
+    (sums.sum_of_roots, (ROOT, ROOT)), (sums.product_of_roots, (ROOT, ROOT)),
+    (winding.check_walk, ((CIRCLE, LINE), AROUND, WALK)), (winding.walk, ((CIRCLE, LINE), AROUND, 5)),
+    (winding.winding, (WALK,)), (winding.least_zeros, ((CIRCLE, LINE), AROUND, 5)),
+    (claims.write_box, (SQUARE,)), (claims.write_tree, (TREE,)), (claims.write_claim, (SYSTEM, WIDE, TREE)),
+    (claims.read_box, (2, "[0,1] [-1,2]")), (claims.read_tree, (1, "halve 0 free 0 single 1/3")),
+    (claims.read_claim, (CLAIM,)), (claims.judged, (CLAIM,)),
     (hunts.Hunt, (SYSTEM, WIDE, 1)), (hunts.restored, (SYSTEM, WIDE, 1, "[0] open\n[1] single 1/3\n")),
 ]
 
-LISTS = {"parts", "chain", "isolated", "roots_of", "corners", "told", "rest", "different"}
+LISTS = {
+    "parts", "chain", "isolated", "roots_of", "corners", "told", "rest", "different", "deflation", "column_counts",
+}
 TELLING = {
     "is_number", "is_interval", "has", "lies_within", "lies_inside", "is_polynomial", "is_system", "is_matrix", "check_comb",
     "is_root", "is_box", "box_has", "box_within", "box_inside", "is_free", "is_single", "is_cover", "same_zero", "check_tree",
-    "is_family", "check_tube",
+    "is_family", "check_tube", "check_elimination", "check_walk",
 }
 INTEGERS = {
     "compare", "sign_of", "degree", "degree_in", "rank", "changes", "count_roots", "root_bound", "variations", "comb_count",
     "compare_roots", "compare_root", "sign_at", "floor_of", "longest", "free_index", "tree_depth",
+    "dual_size", "multiplicity", "zero_count", "winding", "least_zeros",
 }
 HUNTS = {"Hunt", "restored"}
-TEXTS = {"write_number", "write_polynomial", "write_system"}
+TEXTS = {"write_number", "write_polynomial", "write_system", "write_box", "write_tree", "write_claim"}
 
 
 def kind_of(name):
@@ -153,6 +173,8 @@ class Everywhere(unittest.TestCase):
                 self.assertIs(function(value), False)
             self.assertIs(boxes.is_box(2, value), False)
             self.assertIs(combs.check_comb(TWO, (0, 1), (2, 1), value), False)
+            self.assertIs(elimination.check_elimination(2, CIRCLE, LINE, 1, value), False)
+            self.assertIs(winding.check_walk((CIRCLE, LINE), AROUND, value), False)
             self.assertIs(polynomials.is_polynomial(2, value), False)
             self.assertIs(matrices.is_matrix(2, 2, value), False)
             self.assertIs(type(systems.is_system(2, value)), bool)

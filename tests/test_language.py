@@ -21,7 +21,7 @@ NODES = {
     "List", "Dict", "Subscript", "Slice", "Attribute", "Call", "keyword", "BinOp", "UnaryOp", "BoolOp", "Compare", "IfExp",
     "ListComp", "DictComp", "comprehension", "JoinedStr", "FormattedValue", "And", "Or", "Not", "USub", "Add", "Sub",
     "Mult", "FloorDiv", "Mod", "LShift", "RShift", "BitAnd", "BitOr", "BitXor", "Eq", "NotEq", "Lt", "LtE", "Gt", "GtE",
-    "Is", "IsNot", "In", "NotIn",
+    "Is", "IsNot", "In", "NotIn", "Try", "ExceptHandler",
 }
 BUILTINS = {
     "len", "range", "enumerate", "zip", "min", "max", "sum", "abs", "sorted", "reversed", "int", "str", "bool", "list",
@@ -33,7 +33,9 @@ METHODS = {
     "rjust", "rpartition", "rsplit", "rstrip", "setdefault", "split", "startswith", "strip", "upper", "values", "zfill",
     "bit_length",
 }
-LIBRARY = {"math": {"gcd", "lcm", "isqrt", "comb", "perm", "factorial"}}
+LIBRARY = {"math": {"gcd", "lcm", "isqrt", "comb", "perm", "factorial"}, "itertools": {"combinations"}}
+# Parameters and local variables that are functions.
+FUNCTIONS = {"action", "form", "combined"}
 BARRED = {
     "register", "mro", "elements", "open", "input", "law", "version_info", "with_traceback", "add_note", "attrgetter",
     "breakpoint", "compile", "copyright", "credits", "delattr", "dir", "eval", "exec", "exit", "gc", "globals", "help",
@@ -173,7 +175,7 @@ class Form(unittest.TestCase):
             known = set(module_names(tree))
             for node in ast.walk(tree):
                 if isinstance(node, ast.Call) and isinstance(node.func, ast.Name):
-                    self.assertTrue(node.func.id in known | BUILTINS, (path, node.func.id))
+                    self.assertTrue(node.func.id in known | BUILTINS | FUNCTIONS, (path, node.func.id))
                 elif isinstance(node, ast.Call):
                     self.assertIsInstance(node.func, ast.Attribute, (path, node.lineno))
                     self.assertIn(node.func.attr, METHODS | own, (path, node.lineno))
@@ -187,6 +189,18 @@ class Form(unittest.TestCase):
                 for sign, side in zip(node.ops, node.comparators):
                     if isinstance(sign, (ast.Is, ast.IsNot)):
                         self.assertTrue(isinstance(side, ast.Constant) and side.value in (None, True, False))
+
+    def test_caught_errors(self):
+        own = {"BadNumber", "BadText", "NoPlace", "NoZero", "NotUpright", "Endless", "BadLine"}
+        for path, tree in trees().items():
+            for node in ast.walk(tree):
+                if isinstance(node, ast.ExceptHandler):
+                    self.assertTrue(isinstance(node.type, ast.Name) and node.name is None, path)
+                    self.assertIn(node.type.id, own, path)
+                if isinstance(node, ast.Try):
+                    self.assertEqual(node.finalbody, [], path)
+                if isinstance(node, ast.Raise):
+                    self.assertTrue(isinstance(node.exc, ast.Call) and node.exc.func.id in own, (path, node.lineno))
 
     def test_strings(self):
         for path, tree in trees().items():
@@ -239,6 +253,14 @@ class Interface(unittest.TestCase):
         "paths": "is_family(n,value) check_tube(n,family,value) at_time(n,family,t) straight(n,start,goal) "
                  "krawczyk_over(n,family,span,box,A) zero_at(n,family,tube,t,bits) track(n,family,box,A,most) "
                  "joined(first,second) cut(tube,t) end_boxes(n,family,tube,bits)",
+        "multiple": "dual_size(n,system,point,d) multiplicity(n,system,point,most) deflated(n,system,point) "
+                    "regular_part(n,system,point) deflation(n,system,point,most)",
+        "elimination": "resultant(n,p,q,k) check_elimination(n,p,q,k,value) elimination_paper(n,p,q,k) column_counts(p,q) "
+                       "zero_count(p,q) zeros_above(p,q,x)",
+        "sums": "sum_of_roots(r,s) product_of_roots(r,s)",
+        "winding": "check_walk(system,box,value) walk(system,box,depth) winding(walk) least_zeros(system,box,depth)",
+        "claims": "write_box(box) write_tree(tree) write_claim(system,box,tree) read_box(n,text) read_tree(n,text) "
+                  "read_claim(text) judged(text)",
     }
     methods = {
         ("hunts", "Hunt"): "__init__(self,system,box,depth) open_places(self) work(self,place) box_at(self,place) "

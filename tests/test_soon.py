@@ -1,5 +1,6 @@
 """Promise [0.2], where it says which calls end soon."""
 
+import itertools
 import signal
 import unittest
 from fractions import Fraction
@@ -8,10 +9,15 @@ from helpers import Maker, around, box_of, from_factors, nested, num, q, system_
 from rootfast.bernstein import bernstein, halved
 from rootfast.bounds import bounds, slopes
 from rootfast.boxes import box_middle, box_widths, widened
+from rootfast.claims import judged, read_claim, write_claim
 from rootfast.combs import check_comb, comb, comb_count, variations
+from rootfast.elimination import (
+    check_elimination, column_counts, elimination_paper, is_upright, resultant, zero_count, zeros_above,
+)
 from rootfast.hunts import Hunt, restored
 from rootfast.intervals import power_of, product_of, rounded
 from rootfast.matrices import determinant, inverse, rank
+from rootfast.multiple import deflated, deflation, dual_size, multiplicity, regular_part
 from rootfast.papers import cover_paper, is_cover, is_single, narrowed, same_zero, single_paper
 from rootfast.paths import check_tube, cut, end_boxes, joined, track, zero_at
 from rootfast.polynomials import (
@@ -23,9 +29,11 @@ from rootfast.roots import (
     sign_at,
 )
 from rootfast.single import common_divisor, divided, parts, simple_part
+from rootfast.sums import product_of_roots, sum_of_roots
 from rootfast.systems import jacobian, values_at
 from rootfast.texts import read_polynomial, read_system, write_polynomial, write_system
 from rootfast.trees import check_tree, different, rest, search, told, tree_counts, tree_depth, zeros_within
+from rootfast.winding import check_walk, least_zeros, walk, winding
 
 SECONDS = 60
 
@@ -213,6 +221,13 @@ def certified(system, point):
     return None
 
 
+def numbers_in(value):
+    """All integers in a value of tuples."""
+    if type(value) is tuple:
+        return [x for part in value for x in numbers_in(part)]
+    return [value] if type(value) is int else []
+
+
 class Boxes(Soon):
     def test_bounds(self):
         maker = Maker(33)
@@ -259,6 +274,10 @@ class Boxes(Soon):
                 while not hunt.is_done():
                     hunt.work(hunt.open_places()[-1])
                 self.assertEqual(restored(system, box, depth, hunt.text()).tree(), tree)
+                if all(len(str(x)) < 60 for x in numbers_in(tree)):
+                    text = write_claim(system, box, tree)
+                    self.assertEqual(read_claim(text), (system, box, tree))
+                    self.assertIsNotNone(judged(text))
 
     def test_many_zeros(self):
         for n, depth in ((1, 6), (2, 5), (3, 3)):
@@ -308,6 +327,145 @@ class Paths(Soon):
                     first, second = cut(tube, middle)
                     self.assertTrue(check_tube(n, family, joined(first, second)))
         self.assertGreater(made, 3)
+
+
+def from_order(maker, n, low, most, point, terms=15):
+    """A polynomial with exponents as great as told and no terms of degrees less than low at a point."""
+    exponents = [e for e in itertools.product(range(most + 1), repeat=n) if sum(e) >= low]
+    maker.random.shuffle(exponents)
+    p = tuple((e, maker.figures(6)) for e in sorted(exponents[:terms]))
+    return moved(n, p, tuple((-a, b) for a, b in point))
+
+
+class Multiple(Soon):
+    def test_sizes(self):
+        maker = Maker(38)
+        for n, low, most, degrees in ((1, 3, 6, 5), (2, 2, 5, 5), (2, 3, 5, 5), (3, 2, 5, 3), (3, 1, 5, 3)):
+            point = tuple(maker.figures(6) for _ in range(n))
+            for many in (1, 2, 3):
+                system = tuple(from_order(maker, n, low, most, point) for _ in range(many))
+                self.assertGreaterEqual(dual_size(n, system, point, degrees), 1)
+                multiplicity(n, system, point, degrees)
+                deflated(n, system, point)
+
+    def test_without_an_end(self):
+        for n, degrees in ((1, 5), (2, 5), (3, 3)):
+            self.assertIsNone(multiplicity(n, ((),), ((0, 1),) * n, degrees))
+
+    def test_four_polynomials_to_deflate(self):
+        maker = Maker(39)
+        point = tuple(maker.figures(6) for _ in range(3))
+        first, second = (from_order(maker, 3, 1, 1, point) for _ in range(2))
+        plain = (first, second, added(first, second), ())
+        system = tuple(added(p, from_order(maker, 3, 2, 5, point)) for p in plain)
+        self.assertEqual(rank(jacobian(3, system, point)), 2)
+        self.assertEqual(len(deflated(3, system, point)), 8)
+
+    def deflate(self, system, point):
+        k = multiplicity(2, system, point, 8)
+        self.assertIn(k, range(2, 10))
+        found = deflation(2, system, point, 3)
+        steps = found or [system]
+        while found is None and len(steps) < 4:
+            steps.append(deflated(2, steps[-1], point))
+        for step in steps:
+            self.assertLessEqual(len(step), 100)
+            rank(jacobian(2, step, point))
+            self.assertIn(multiplicity(2, step, point, 5), (None,) + tuple(range(1, k + 1)))
+        if found is not None:
+            part = regular_part(2, found[-1], point)
+            single_paper(part, around([q(x) for x in point], Fraction(1, 1000)))
+
+    def test_deflations(self):
+        maker = Maker(40)
+        point = (maker.figures(6), maker.figures(6))
+        for low in (2, 3):
+            self.deflate(tuple(from_order(maker, 2, low, 5, point, 36) for _ in range(2)), point)
+            self.deflate(tuple(from_order(maker, 2, low, 5, point, 36) for _ in range(3)), point)
+        for low in (3, 5):
+            line = moved(2, (((0, 1), (7, 3)),), tuple((-a, b) for a, b in point))
+            first = added(line, from_order(maker, 2, 2, 5, point, 36))
+            self.deflate((first, from_order(maker, 2, low, 5, point, 36)), point)
+
+    def test_deflations_in_one_variable(self):
+        maker = Maker(41)
+        point = (maker.figures(6),)
+        for low in (2, 4, 5):
+            system = tuple(from_order(maker, 1, low, 6, point) for _ in range(2))
+            self.assertEqual(multiplicity(1, system, point, 5), low)
+            self.assertIs(deflation(1, system, point, 3) is None, low > 4)
+
+    def test_all_polynomials(self):
+        maker = Maker(42)
+        for n, terms, most in ((1, 25, 24), (2, 625, 24), (3, 1000, 9), (3, 15, 4)):
+            point = tuple(maker.figures(4) for _ in range(n))
+            table = {}
+            while len(table) < terms:
+                table[tuple(maker.random.randint(0, most) for _ in range(n))] = (maker.figures(15)[0], 1)
+            p = tuple((e, table[e]) for e in sorted(table))
+            p = subtracted(p, constant(n, value_at(p, point)))
+            self.assertEqual(multiplicity(n, (p,), point, 2), 1 if n == 1 else None)
+
+
+def in_rows(maker, n, k, d):
+    """A polynomial with fifteen terms of which the degree in the variable k is d."""
+    table = {}
+    while len(table) < min(15, 5 ** (n - 1) * (d + 1)):
+        exponents = [maker.random.randint(0, 4) for _ in range(n)]
+        exponents[k] = maker.random.randint(0, d) if table else d
+        table[tuple(exponents)] = maker.figures(6)
+    return tuple((e, table[e]) for e in sorted(table))
+
+
+class Eliminating(Soon):
+    def test_six_rows(self):
+        maker = Maker(43)
+        for n, k in ((2, 1), (3, 0), (4, 2)):
+            for d, e in ((3, 3), (4, 2), (2, 4), (1, 4), (4, 0)):
+                p, r = in_rows(maker, n, k, d), in_rows(maker, n, k, e)
+                self.assertTrue(resultant(n, p, r, k))
+                paper = elimination_paper(n, p, r, k)
+                if paper is not None:
+                    self.assertTrue(check_elimination(n, p, r, k, paper))
+
+    def test_plane(self):
+        maker = Maker(44)
+        for d, e in ((3, 3), (4, 2), (1, 4)):
+            p, r = (tuple(term for term in in_rows(maker, 2, 1, top) if term[0][1] < top) for top in (d, e))
+            p, r = added(p, (((0, d), maker.figures(6)),)), added(r, (((0, e), maker.figures(6)),))
+            self.assertTrue(is_upright(p) and is_upright(r))
+            self.assertEqual(sum(k * degree(f) for k, f in column_counts(p, r)), zero_count(p, r))
+            zeros_above(p, r, maker.figures(6))
+
+    def test_sums(self):
+        maker = Maker(45)
+        for _ in range(3):
+            p, r = (maker.dense(1, 3, lambda: maker.figures(15)) for _ in range(2))
+            for s in roots_of(p):
+                for t in roots_of(r):
+                    self.assertTrue(is_root(sum_of_roots(s, t)))
+                    self.assertTrue(is_root(product_of_roots(s, t)))
+
+
+class Walks(Soon):
+    def test_walks(self):
+        maker = Maker(46)
+        made = 0
+        for _ in range(12):
+            system = tuple(figured(maker, 2, 15, 4) for _ in range(2))
+            for box in (figured_box(maker, 2), around([Fraction(1, 3)] * 2, Fraction(7, 3))):
+                found = walk(system, box, 7)
+                if found is not None:
+                    made += 1
+                    self.assertTrue(check_walk(system, box, found))
+                    self.assertEqual(least_zeros(system, box, 7), abs(winding(found)))
+        self.assertGreater(made, 3)
+
+    def test_zero_on_the_boundary(self):
+        maker = Maker(47)
+        system, point = with_zero(maker, 2, 2, 4)
+        box = tuple((x, num(q(x) + 1)) for x in point)
+        self.assertIsNone(walk(system, box, 7))
 
 
 if __name__ == "__main__":
