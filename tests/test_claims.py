@@ -90,7 +90,8 @@ class Boxes(unittest.TestCase):
     def test_bad_ones(self):
         for text in (
             "", " ", "[]", "[1]", "[,]", "[1,]", "[,1]", "[2,1]", "[1,1/2]", "(0,1)", "[0;1]", "[0, 1]", "[0,1] ", " [0,1]",
-            "[0,1]\n", "0,1", "[0,1", "0,1]", "[[0,1]]", "[0,1,2]", "[2/4,1]", "[0,3/1]", "[-0,1]", "[07,8]", "[+1,2]", "[1/0,2]",
+            "[0,1]\n", "0,1", "[0,1", "0,1]", "[[0,1]]", "[0,1,2]", "[2/4,1]", "[0,3/1]", "[-0,1]", "[07,8]", "[+1,2]",
+            "[1/0,2]",
             "[0.5,1]", "[1e1,20]", "[0,1][0,1]", "[0,1]  [0,1]", "[0,1],[0,1]", "[x,1]", "[--1,1]", "[1/-2,1]", "[0,\u0661]",
         ):
             for n in (1, 2):
@@ -113,7 +114,8 @@ class Trees(unittest.TestCase):
         matrix = ((num(1, 2), num(-3)), (num(0), num(7, 5)))
         for n, text, tree in (
             (1, "rest", REST), (2, "free 0", ("free", 0)), (1, "free 999999999", ("free", 999999999)),
-            (1, "single 1/3", ("single", THIRD)), (2, "single 1/2 -3 0 7/5", ("single", matrix)), (1, "halve 0 free 0 single 1/3", TREE),
+            (1, "single 1/3", ("single", THIRD)), (2, "single 1/2 -3 0 7/5", ("single", matrix)),
+            (1, "halve 0 free 0 single 1/3", TREE),
             (2, "halve 1 halve 0 rest free 1 single 1/2 -3 0 7/5", (
                 "halve", 1, ("halve", 0, REST, ("free", 1)), ("single", matrix))),
             (4, "halve 3 rest halve 2 rest rest", ("halve", 3, REST, ("halve", 2, REST, REST))),
@@ -154,9 +156,12 @@ class Trees(unittest.TestCase):
 
     def test_bad_ones(self):
         for text in (
-            "", " ", "rest ", " rest", "rest\n", "Rest", "rests", "rest rest", "rest 0", "free", "free ", "free -1", "free +1", "free 01",
-            "free 1/2", "free x", "free 0 0", "free  0", "single", "single 1/3 1/3", "single x", "single 2/4", "single 01", "halve",
-            "halve 0", "halve 0 rest", "halve 0 rest rest rest", "halve rest rest", "halve 00 rest rest", "halve -0 rest rest",
+            "", " ", "rest ", " rest", "rest\n", "Rest", "rests", "rest rest", "rest 0", "free", "free ", "free -1",
+            "free +1", "free 01",
+            "free 1/2", "free x", "free 0 0", "free  0", "single", "single 1/3 1/3", "single x", "single 2/4",
+            "single 01", "halve",
+            "halve 0", "halve 0 rest", "halve 0 rest rest rest", "halve rest rest", "halve 00 rest rest",
+            "halve -0 rest rest",
             "halve 1 rest rest", "halve 0  rest rest", "halve 0 rest\nrest", "halve 0 (rest) (rest)", "none", "one", "over",
             "free \u0661", "free 1\u00b2", "halve 0 rest none",
         ):
@@ -267,7 +272,8 @@ class Claims(unittest.TestCase):
 
     def test_polynomials_in_their_own_text(self):
         for text in (
-            "x^2-2", "-2 + x^2", "x*x - 2", "1*x^2 - 2", "x^2 - 2 + 0", "(x^2 - 2)", "x^2 - 4/2", "x^2 - 1 - 1", "x^2 + -2", "x^2 - 2 ",
+            "x^2-2", "-2 + x^2", "x*x - 2", "1*x^2 - 2", "x^2 - 2 + 0", "(x^2 - 2)", "x^2 - 4/2", "x^2 - 1 - 1",
+            "x^2 + -2", "x^2 - 2 ",
             " x^2 - 2", "x^2  - 2", "x^1 - 2", "x^02 - 2", "y^2 - 2", "2x", "", "x^2 - x^2", "x^0", "-0", "x^13", "+x",
             "(x + 1)^2", f"{SIXTY_ONE}*x", f"x + 1/{SIXTY_ONE}", "9^12*9^12*9^12*9^12*9^12*9^12",
         ):
@@ -285,8 +291,10 @@ class Claims(unittest.TestCase):
 
     def test_words(self):
         for old, new in (
-            ("polynomial ", "polynomial"), ("polynomial ", "polynomial  "), ("box ", "box"), ("box ", "box  "), ("box ", "Box "),
-            ("tree ", "tree"), ("tree ", "tree  "), ("tree ", "search "), ("variables ", "variables  "), ("polynomial ", "poly "),
+            ("polynomial ", "polynomial"), ("polynomial ", "polynomial  "), ("box ", "box"), ("box ", "box  "),
+            ("box ", "Box "),
+            ("tree ", "tree"), ("tree ", "tree  "), ("tree ", "search "), ("variables ", "variables  "),
+            ("polynomial ", "poly "),
         ):
             self.bad(CLAIM.replace(old, new))
 

@@ -1,4 +1,4 @@
-"""The examples that the document's interface prints for the modules that have landed, and those of README.md."""
+"""The examples that the document's interface prints, and those of README.md."""
 
 import doctest
 import pathlib
@@ -9,17 +9,22 @@ from rootfast.bounds import bounds, centered, natural
 from rootfast.boxes import widened
 from rootfast.claims import write_claim
 from rootfast.combs import comb, variations
+from rootfast.critical import gradient, shape_over
+from rootfast.desk import run_desk
 from rootfast.elimination import resultant
 from rootfast.hunts import Hunt
 from rootfast.intervals import power_of, rounded
+from rootfast.least import least
 from rootfast.matrices import inverse
 from rootfast.multiple import deflated, multiplicity
 from rootfast.numbers import number, over
 from rootfast.papers import free_index, krawczyk, single_paper
 from rootfast.paths import straight, track
+from rootfast.plane import counted_zeros, frame, rational_roots
 from rootfast.polynomials import moved, multiplied
 from rootfast.real import count_roots, root_bound
 from rootfast.roots import floor_of, roots_of, sign_at
+from rootfast.signs import cells_that_meet, sign_table
 from rootfast.single import parts
 from rootfast.texts import read_polynomial, write_polynomial
 from rootfast.trees import search
@@ -135,6 +140,32 @@ class Examples(unittest.TestCase):
     def test_claims(self):
         text = write_claim(SQUARE, (((2, 1), (3, 1)),), ("free", 0))
         self.assertEqual(text, "variables 1\npolynomial x^2 - 2\nbox [2,3]\ntree free 0\n")
+
+    def test_plane(self):
+        zeros = [(((-1, 1), (-1, 1)), 1), (((1, 1), (1, 1)), 1)]
+        found = [frame(CIRCLE, LINE), counted_zeros(CIRCLE, LINE)]
+        self.assertEqual(found, [(((-2, 1), (2, 1)), ((-2, 1), (2, 1))), zeros])
+        self.assertEqual(rational_roots((((0,), (-1, 1)), ((1,), (1, 1)), ((2,), (2, 1)))), [(-1, 1), (1, 2)])
+
+    def test_least(self):
+        found = least((((1,), (-1, 1)), ((2,), (1, 1))), (((0, 1), (1, 1)),), (1, 4), 1)
+        self.assertEqual(found, ((-7, 16), ((1, 4),), ("halve", 0, ("over",), ("over",))))
+
+    def test_critical(self):
+        bowl = (((0, 2), (1, 1)), ((2, 0), (1, 1)))
+        found = [gradient(2, bowl), shape_over(bowl, (((-1, 1), (1, 1)), ((-1, 1), (1, 1))))]
+        self.assertEqual(found, [((((1, 0), (2, 1)),), (((0, 1), (2, 1)),)), "least"])
+
+    def test_signs(self):
+        two = (((0,), (-2, 1)), ((2,), (1, 1)))
+        one = (((0,), (-1, 1)), ((1,), (1, 1)))
+        found = [sign_table([two]), cells_that_meet([(two, "<"), (one, ">=")])]
+        self.assertEqual(found, [[(1,), (0,), (-1,), (0,), (1,)], [3, 4]])
+
+    def test_desk(self):
+        text = "polynomial x^2 - 2\nbox [0,2]\ntree 1\ncount 1\nroots\nat 1/2\nwinding 3\n"
+        report = "halve 0 free 0 single 1/3\ntold 1 rest 0\nroots 1 1\nvalues -7/4\nnot now\n"
+        self.assertEqual(run_desk(text), report)
 
 
 if __name__ == "__main__":

@@ -5,8 +5,8 @@ import unittest
 
 from helpers import box_of, iv, strange_values, uni
 from rootfast import (
-    bernstein, bounds, boxes, claims, combs, elimination, hunts, intervals, matrices, multiple, numbers, papers, paths,
-    polynomials, real, roots, single, sums, systems, texts, trees, winding,
+    bernstein, bounds, boxes, claims, combs, critical, desk, elimination, hunts, intervals, least, matrices, multiple, numbers,
+    papers, paths, plane, polynomials, real, roots, signs, single, sums, systems, texts, trees, winding,
 )
 
 TWO = uni(-2, 0, 1)
@@ -29,6 +29,7 @@ PAPER = ((((0, 0), (1, 1)),), (((0, 1), (1, 1)), ((1, 0), (1, 1))))
 AROUND = box_of((0, 2), (0, 2))
 WALK = winding.walk((CIRCLE, LINE), AROUND, 5)
 CLAIM = "variables 1\npolynomial x^2 - 2\nbox [0,2]\ntree halve 0 free 0 single 1/3\n"
+LEAST = least.least(TWO, WIDE, (3, 1), 2)
 
 # Each function of the interface with arguments, and what its result is made of.
 CALLS = [
@@ -96,24 +97,38 @@ CALLS = [
     (claims.write_box, (SQUARE,)), (claims.write_tree, (TREE,)), (claims.write_claim, (SYSTEM, WIDE, TREE)),
     (claims.read_box, (2, "[0,1] [-1,2]")), (claims.read_tree, (1, "halve 0 free 0 single 1/3")),
     (claims.read_claim, (CLAIM,)), (claims.judged, (CLAIM,)),
+    (plane.rational_roots, (uni(-1, 1, 2),)), (plane.exchanged, (CIRCLE,)), (plane.is_fair, (CIRCLE, LINE)),
+    (plane.frame, (CIRCLE, LINE)), (plane.plane_zeros, (CIRCLE, LINE, 4)), (plane.rational_zeros, (CIRCLE, LINE)),
+    (plane.counted_zeros, (CIRCLE, LINE)),
+    (least.check_least, (TWO, WIDE, LEAST)), (least.least, (TWO, WIDE, (3, 1), 2)), (least.least_between, (TWO, LEAST)),
+    (critical.gradient, (2, CIRCLE)), (critical.hessian, (2, CIRCLE)), (critical.shape_over, (CIRCLE, SQUARE)),
+    (critical.critical_boxes, (2, CIRCLE, SQUARE, 2)),
+    (signs.marks, ([TWO, uni(1, 1)],)), (signs.samples, ([TWO, uni(1, 1)],)), (signs.sign_of_sample, (TWO, ("root", ROOT))),
+    (signs.sign_table, ([TWO, uni(1, 1)],)), (signs.meets, ([(TWO, "<"), ((), "=")], ("number", (1, 1)))),
+    (signs.cells_that_meet, ([(TWO, "<"), ((), "=")],)), (signs.solution, ([(TWO, "<"), ((), "=")],)),
+    (desk.run_desk, ("polynomial x\nshow\nroots\n",)),
     (hunts.Hunt, (SYSTEM, WIDE, 1)), (hunts.restored, (SYSTEM, WIDE, 1, "[0] open\n[1] single 1/3\n")),
 ]
 
 LISTS = {
     "parts", "chain", "isolated", "roots_of", "corners", "told", "rest", "different", "deflation", "column_counts",
+    "rational_roots", "rational_zeros", "counted_zeros", "critical_boxes", "marks", "samples", "sign_table", "cells_that_meet",
 }
 TELLING = {
     "is_number", "is_interval", "has", "lies_within", "lies_inside", "is_polynomial", "is_system", "is_matrix", "check_comb",
     "is_root", "is_box", "box_has", "box_within", "box_inside", "is_free", "is_single", "is_cover", "same_zero", "check_tree",
-    "is_family", "check_tube", "check_elimination", "check_walk",
+    "is_family", "check_tube", "check_elimination", "check_walk", "is_fair",
+    "check_least", "meets",
 }
 INTEGERS = {
     "compare", "sign_of", "degree", "degree_in", "rank", "changes", "count_roots", "root_bound", "variations", "comb_count",
     "compare_roots", "compare_root", "sign_at", "floor_of", "longest", "free_index", "tree_depth",
-    "dual_size", "multiplicity", "zero_count", "winding", "least_zeros",
+    "dual_size", "multiplicity", "zero_count", "winding", "least_zeros", "sign_of_sample",
 }
 HUNTS = {"Hunt", "restored"}
-TEXTS = {"write_number", "write_polynomial", "write_system", "write_box", "write_tree", "write_claim"}
+TEXTS = {
+    "write_number", "write_polynomial", "write_system", "write_box", "write_tree", "write_claim", "shape_over", "run_desk",
+}
 
 
 def kind_of(name):
@@ -154,6 +169,9 @@ class Everywhere(unittest.TestCase):
             if function is trees.zeros_within:
                 self.assertEqual([type(x) for x in result], [list] * 3)
                 result = sum(result, [])
+            if function is plane.plane_zeros:
+                self.assertEqual([type(x) for x in result], [list, list, int])
+                result = result[0] + result[1]
             if type(result) in (list, tuple):
                 self.assertTrue(plain_tuples_within(tuple(result)), function.__name__)
 
@@ -175,6 +193,7 @@ class Everywhere(unittest.TestCase):
             self.assertIs(combs.check_comb(TWO, (0, 1), (2, 1), value), False)
             self.assertIs(elimination.check_elimination(2, CIRCLE, LINE, 1, value), False)
             self.assertIs(winding.check_walk((CIRCLE, LINE), AROUND, value), False)
+            self.assertIs(least.check_least(TWO, WIDE, value), False)
             self.assertIs(polynomials.is_polynomial(2, value), False)
             self.assertIs(matrices.is_matrix(2, 2, value), False)
             self.assertIs(type(systems.is_system(2, value)), bool)

@@ -261,6 +261,13 @@ class Interface(unittest.TestCase):
         "winding": "check_walk(system,box,value) walk(system,box,depth) winding(walk) least_zeros(system,box,depth)",
         "claims": "write_box(box) write_tree(tree) write_claim(system,box,tree) read_box(n,text) read_tree(n,text) "
                   "read_claim(text) judged(text)",
+        "plane": "rational_roots(p) exchanged(p) is_fair(p,q) frame(p,q) plane_zeros(p,q,depth) rational_zeros(p,q) "
+                 "counted_zeros(p,q)",
+        "least": "check_least(p,box,value) least(p,box,gap,depth) least_between(p,paper)",
+        "critical": "gradient(n,p) hessian(n,p) shape_over(p,box) critical_boxes(n,p,box,depth)",
+        "signs": "marks(polynomials) samples(polynomials) sign_of_sample(p,sample) sign_table(polynomials) "
+                 "meets(conditions,sample) cells_that_meet(conditions) solution(conditions)",
+        "desk": "run_desk(text)",
     }
     methods = {
         ("hunts", "Hunt"): "__init__(self,system,box,depth) open_places(self) work(self,place) box_at(self,place) "

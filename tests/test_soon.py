@@ -11,15 +11,21 @@ from rootfast.bounds import bounds, slopes
 from rootfast.boxes import box_middle, box_widths, widened
 from rootfast.claims import judged, read_claim, write_claim
 from rootfast.combs import check_comb, comb, comb_count, variations
+from rootfast.critical import critical_boxes, hessian, shape_over
+from rootfast.desk import run_desk
 from rootfast.elimination import (
     check_elimination, column_counts, elimination_paper, is_upright, resultant, zero_count, zeros_above,
 )
 from rootfast.hunts import Hunt, restored
 from rootfast.intervals import power_of, product_of, rounded
+from rootfast.least import check_least, least
 from rootfast.matrices import determinant, inverse, rank
 from rootfast.multiple import deflated, deflation, dual_size, multiplicity, regular_part
 from rootfast.papers import cover_paper, is_cover, is_single, narrowed, same_zero, single_paper
 from rootfast.paths import check_tube, cut, end_boxes, joined, track, zero_at
+from rootfast.plane import (
+    counted_zeros, exchanged, frame, is_fair, plane_zeros, rational_roots, rational_zeros,
+)
 from rootfast.polynomials import (
     added, constant, degree, derivative, fixed, is_polynomial, moved, multiplied, polynomial, raised, subtracted, value_at,
 )
@@ -28,6 +34,7 @@ from rootfast.roots import (
     compare_root, compare_roots, floor_of, inverse_root, is_root, near, negative_root, roots_of, scaled_root, shifted_root,
     sign_at,
 )
+from rootfast.signs import cells_that_meet, marks, samples, sign_table, solution
 from rootfast.single import common_divisor, divided, parts, simple_part
 from rootfast.sums import product_of_roots, sum_of_roots
 from rootfast.systems import jacobian, values_at
@@ -466,6 +473,108 @@ class Walks(Soon):
         system, point = with_zero(maker, 2, 2, 4)
         box = tuple((x, num(q(x) + 1)) for x in point)
         self.assertIsNone(walk(system, box, 7))
+
+
+def fair_pair(maker, d, e, point):
+    """Two polynomials of these degrees in both variables, with a zero at a point."""
+    found = []
+    for top in (d, e):
+        inner = [i for i in itertools.product(range(top), repeat=2)]
+        maker.random.shuffle(inner)
+        table = {i: maker.figures(6) for i in inner[:13]}
+        table[(0, top)], table[(top, 0)] = maker.figures(6), maker.figures(6)
+        p = tuple((i, table[i]) for i in sorted(table))
+        found.append(subtracted(p, constant(2, value_at(p, point))))
+    return found
+
+
+class WholePlane(Soon):
+    def test_rational_roots(self):
+        maker = Maker(51)
+        for p in (
+            maker.dense(1, 25, lambda: maker.figures(15)), from_factors(*[[-1, 3]] * 25), uni(*[0] * 25, 1),
+            from_factors(*[[-a, b] for a, b in (maker.figures(15) for _ in range(25))]),
+            from_factors(*[[-k, 1] for k in range(-12, 13)]), from_factors([-1, 10 ** 15 - 1], [-2, 0, 10 ** 15 - 1], [1] * 22),
+        ):
+            rational_roots(p)
+
+    def test_pairs(self):
+        maker = Maker(52)
+        for d, e in ((3, 3), (2, 4), (4, 2), (1, 4), (2, 3)):
+            point = (maker.figures(6), maker.figures(6)) if d == 2 else maker.point(2)
+            p, r = fair_pair(maker, d, e, point)
+            self.assertTrue(is_fair(p, r))
+            self.assertGreaterEqual(zero_count(p, r), d * e)
+            self.assertEqual(frame(exchanged(p), exchanged(r)), frame(p, r)[::-1])
+            self.assertIn(point, rational_zeros(p, r))
+            self.assertIn((point, 1), counted_zeros(p, r))
+            if max(d, e) < 4:
+                boxes, left, count = plane_zeros(p, r, 5)
+                self.assertLessEqual(len(boxes), count)
+
+    def test_multiple_zeros(self):
+        maker = Maker(53)
+        point = (maker.figures(6), maker.figures(6))
+        p, r = (from_order(maker, 2, 3, 3, point) for _ in range(2))
+        p, r = (tuple(term for term in moved(2, f, point) if sum(term[0]) < 4) for f in (p, r))
+        back = tuple((-a, b) for a, b in point)
+        more = [(((0, 3), maker.figures(6)), ((3, 0), maker.figures(6))) for _ in range(2)]
+        p, r = (moved(2, added(f, g), back) for f, g in zip((p, r), more))
+        self.assertEqual(counted_zeros(p, r), [(point, 9)])
+        # Both curves stay near to each other for long.
+        p, r = system_of(2, "y - x^4", "y^4 + 1/999983*x^12")
+        self.assertEqual(counted_zeros(p, r)[0][1], 12)
+
+
+class LeastValues(Soon):
+    def test_papers(self):
+        maker = Maker(54)
+        for n, depth in ((1, 6), (2, 5), (3, 3), (1, 12), (2, 10), (3, 9)):
+            for _ in range(2):
+                p = figured(maker, n, 15, 3)
+                box = figured_box(maker, n)
+                paper = least(p, box, (10 ** 60, 1), depth)
+                self.assertTrue(check_least(p, box, paper))
+                least(p, box, (0, 1), depth)
+                deep = nested(99, lambda v: ("halve", n - 1, ("over",), v or ("over",)))
+                self.assertFalse(check_least(p, box, (paper[0], paper[1], deep)))
+                deep = nested(40, lambda v: ("halve", n - 1, ("over",), v or ("over",)))
+                self.assertTrue(check_least(p, box, (paper[0], paper[1], deep)))
+
+    def test_critical_points(self):
+        maker = Maker(55)
+        for n, depth in ((1, 6), (2, 5), (3, 3)):
+            for most in (3, 4):
+                p = figured(maker, n, 15, most)
+                hessian(n, p)
+                for box in (figured_box(maker, n), around([0] * n, 1)):
+                    shape_over(p, box)
+                    critical_boxes(n, p, box, depth)
+
+
+class OnTheLine(Soon):
+    def test_signs(self):
+        maker = Maker(56)
+        rows = [maker.dense(1, 25, lambda: maker.figures(15)) for _ in range(4)]
+        rows += [multiplied(rows[0], rows[0]), from_factors(*[[-k, 1] for k in range(1, 13)]), rows[1]]
+        found = marks(rows)
+        self.assertEqual(len(samples(rows)), 2 * len(found) + 1)
+        self.assertEqual(len(sign_table(rows)), 2 * len(found) + 1)
+        conditions = [(p, word) for p, word in zip(rows, ("<=", ">=", "<>", "<", ">=", ">", ">="))]
+        cells = cells_that_meet(conditions)
+        self.assertEqual(solution(conditions) is None, not cells)
+
+
+class Desks(Soon):
+    def test_all_commands(self):
+        maker = Maker(57)
+        for n, depth in ((1, 6), (2, 5), (3, 3), (4, 1)):
+            lines = [f"variables {n}"]
+            lines += ["polynomial " + write_polynomial(n, figured(maker, n, 15, 3)) for _ in range(n)]
+            lines += ["box " + " ".join(f"[{q(low)},{q(high)}]" for low, high in figured_box(maker, n))]
+            lines += ["show", f"tree {depth}", f"count {depth}", "winding 7", "multiplicity 5" + " 0" * n, "resultant", "frame", "rational"]
+            lines += ["at" + " -999999/999998" * n, "roots", f"least 1/3 {depth}", "shape"]
+            self.assertTrue(run_desk("\n".join(lines)))
 
 
 if __name__ == "__main__":

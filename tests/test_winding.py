@@ -205,8 +205,10 @@ class Checking(unittest.TestCase):
         ):
             self.check(wrong, False)
         for wrong in (
-            ["sign", 1, -1], ("sign", 1), ("sign", 1, -1, 0), ("sign",), (), ("sign", True, -1), ("sign", 1, "-1"), ("sign", "1", -1),
-            ("sign", 1, num(-1)), ("sign", 1, -1.0), ("sign", 1.0, -1), ("sign", None, -1), ("sign", 1, None), ("Sign", 1, -1),
+            ["sign", 1, -1], ("sign", 1), ("sign", 1, -1, 0), ("sign",), (), ("sign", True, -1), ("sign", 1, "-1"),
+            ("sign", "1", -1),
+            ("sign", 1, num(-1)), ("sign", 1, -1.0), ("sign", 1.0, -1), ("sign", None, -1), ("sign", 1, None),
+            ("Sign", 1, -1),
             (b"sign", 1, -1), (None, 1, -1), (True, 1, -1), ("rest", 1, -1), ("free", 1, -1), ("halve", 1, -1),
             ("halve", ["sign", 1, -1], ("sign", 1, -1)), ("halve", ("sign", 1, -1)), ("halve", ("sign", 1, -1), ()),
             ("halve", 0, ("sign", 1, -1), ("sign", 1, -1)), (Odd(), 1, -1), ("sign", Odd(), -1), ("sign", 1, Odd()),
@@ -275,7 +277,8 @@ class Walking(unittest.TestCase):
 
     def test_zero_on_the_boundary(self):
         for texts, box in (
-            (("x", "y"), box_of((0, 1), (-1, 1))), (("x", "y"), box_of((-1, 1), (-1, 0))), (("x", "y"), box_of((0, 1), (0, 1))),
+            (("x", "y"), box_of((0, 1), (-1, 1))), (("x", "y"), box_of((-1, 1), (-1, 0))),
+            (("x", "y"), box_of((0, 1), (0, 1))),
             (("x - 1/3", "y - 1"), UNIT), (("0", "0"), UNIT), (("x", "0"), UNIT), (("x^2 - 1/3", "y + 1"), UNIT),
         ):
             for depth in (0, 1, 5, 40):
@@ -345,7 +348,8 @@ class Winding(unittest.TestCase):
         # Zeros at 0 and 1 in one direction, with other signs of the determinant, and at -1 and 1 in the other one.
         system = system_of(2, "x^2 - x", "y^3 - y")
         cases = [
-            (box_of((-1, 2), (-2, 2)), 0), (box_of((-1, Fraction(1, 2)), (-2, 2)), -1), (box_of((Fraction(1, 2), 2), (-2, 2)), 1),
+            (box_of((-1, 2), (-2, 2)), 0), (box_of((-1, Fraction(1, 2)), (-2, 2)), -1),
+            (box_of((Fraction(1, 2), 2), (-2, 2)), 1),
             (box_of((Fraction(1, 2), 2), (-2, Fraction(1, 2))), 0), (box_of((Fraction(1, 2), 2), (Fraction(1, 2), 2)), 1),
             (box_of((Fraction(1, 2), 2), (Fraction(-1, 2), Fraction(1, 2))), -1),
         ]
