@@ -112,21 +112,21 @@ def write_claim(system, box, tree):
 def read_claim(text):
     """The triple of the system, the box and the tree of a claim."""
     lines = text.split("\n")
-    n = read_index(_behind(lines, 0, "variables "))
+    n = read_index(_behind("variables ", lines[0]))
     # Behind the last line feed stands an empty piece.
     if not 1 <= n <= _MOST_VARIABLES or len(lines) != n + 4 or lines[-1] != "":
         raise BadText("another number of lines than told")
-    system = tuple([_exact_polynomial(n, _behind(lines, k, "polynomial ")) for k in range(1, n + 1)])
-    box = read_box(n, _behind(lines, n + 1, "box "))
-    tree = read_tree(n, _behind(lines, n + 2, "tree "))
+    system = tuple([_exact_polynomial(n, _behind("polynomial ", line)) for line in lines[1:n + 1]])
+    box = read_box(n, _behind("box ", lines[n + 1]))
+    tree = read_tree(n, _behind("tree ", lines[n + 2]))
     return system, box, tree
 
 
-def _behind(lines, k, start):
+def _behind(start, line):
     """What stands in a line behind its first word."""
-    if k >= len(lines) or not lines[k].startswith(start):
-        raise BadText("a line is missing or has another first word")
-    return lines[k][len(start):]
+    if not line.startswith(start):
+        raise BadText("a line has another first word")
+    return line[len(start):]
 
 
 def _exact_polynomial(n, text):

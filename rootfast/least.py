@@ -4,8 +4,9 @@ from rootfast.bounds import bounds
 from rootfast.boxes import box_has, box_middle, halves, longest
 from rootfast.numbers import compare, is_number, minus
 from rootfast.polynomials import value_at
+from rootfast.trees import all_leaves_fit
 
-_MOST_HALVINGS = 40
+_OVER = ("over",)
 
 
 def check_least(p, box, value):
@@ -15,35 +16,13 @@ def check_least(p, box, value):
     low, point, tree = value
     if not is_number(low) or not _is_point(len(box), point):
         return False
-    return box_has(box, point) and _is_right_tree(p, box, low, tree)
+    if not box_has(box, point):
+        return False
+    return all_leaves_fit(box, tree, lambda part, leaf: leaf == _OVER and _is_over(p, part, low))
 
 
 def _is_point(n, value):
     return type(value) == tuple and len(value) == n and all([is_number(x) for x in value])
-
-
-def _is_right_tree(p, box, low, value):
-    waiting = [(box, value, 0)]
-    while waiting:
-        part, tree, depth = waiting.pop()
-        if type(tree) != tuple or not tree:
-            return False
-        word = tree[0]
-        if type(word) != str:
-            return False
-        if word == "halve":
-            if len(tree) != 4 or depth == _MOST_HALVINGS or not _is_index(tree[1], len(box)):
-                return False
-            first, second = halves(part, tree[1])
-            waiting.append((second, tree[3], depth + 1))
-            waiting.append((first, tree[2], depth + 1))
-        elif len(tree) != 1 or word != "over" or not _is_over(p, part, low):
-            return False
-    return True
-
-
-def _is_index(value, many):
-    return type(value) == int and 0 <= value < many
 
 
 def _is_over(p, box, low):
@@ -84,7 +63,7 @@ def _least_middle(p, parts):
 def _tree_over(p, box, low):
     """The tree of a box, of which each part that was cut so deep as told is known to be over the bound."""
     if _is_over(p, box, low):
-        return ("over",)
+        return _OVER
     k = longest(box)
     first, second = halves(box, k)
     return ("halve", k, _tree_over(p, first, low), _tree_over(p, second, low))

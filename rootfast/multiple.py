@@ -12,31 +12,29 @@ from rootfast.whole import primitive
 
 def dual_size(n, system, point, d):
     """The number of the monomials of degrees up to d, less the rank of Macaulay's matrix for d."""
-    if not is_zero(system, point):
-        return 0
-    tables = _moved_tables(n, system, point)
-    space = _first_space(n)
-    for k in range(1, d + 1):
-        wider = _wider_space(n, tables, space, k)
-        if len(wider) == len(space):
-            # What does not grow once never grows again.
-            return len(space)
-        space = wider
-    return len(space)
+    return _dual_sizes(n, system, point, d)[-1]
 
 
 def multiplicity(n, system, point, most):
     """The multiplicity of a point as a zero of a system, or None if no degree up to most tells it."""
+    sizes = _dual_sizes(n, system, point, most + 1)
+    return sizes[-1] if sizes[-1] == sizes[-2] else None
+
+
+def _dual_sizes(n, system, point, d):
+    """The list of the sizes from degree 0 to d, or to the first one that is the same as that before it.
+
+    What does not grow once never grows again.
+    """
     if not is_zero(system, point):
-        return 0
-    tables = _moved_tables(n, system, point)
+        return [0, 0]
+    tables = _moved_tables(n, system, point, d)
     space = _first_space(n)
-    for k in range(1, most + 2):
-        wider = _wider_space(n, tables, space, k)
-        if len(wider) == len(space):
-            return len(space)
-        space = wider
-    return None
+    sizes = [len(space)]
+    while len(sizes) <= d and (len(sizes) == 1 or sizes[-1] != sizes[-2]):
+        space = _wider_space(n, tables, space, len(sizes))
+        sizes.append(len(space))
+    return sizes
 
 
 def is_zero(system, point):
@@ -44,11 +42,11 @@ def is_zero(system, point):
     return all([value[0] == 0 for value in values_at(system, point)])
 
 
-def _moved_tables(n, system, point):
-    """The list of the tables of the coefficients, as integers, of the polynomials moved by a point."""
+def _moved_tables(n, system, point, d):
+    """The list of the tables of the coefficients, as integers, of the polynomials moved by a point, up to degree d."""
     tables = []
     for p in system:
-        terms = moved(n, p, point)
+        terms = [term for term in moved(n, p, point) if sum(term[0]) <= d]
         _, wholes = whole_row([coefficient for _, coefficient in terms])
         tables.append({exponents: c for (exponents, _), c in zip(terms, wholes)})
     return tables

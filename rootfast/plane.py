@@ -31,19 +31,19 @@ def _are_upright(p, q):
     return all([is_upright(r) for r in (p, q, exchanged(p), exchanged(q))])
 
 
-def _resultants(p, q):
-    """The resultants of a fair pair by the second and by the first variable."""
+def _fair_resultant(p, q):
+    """The resultant of a fair pair by the second variable."""
     if not _are_upright(p, q):
         raise NotUpright("one of the polynomials is not upright")
-    first = resultant(2, p, q, 1)
-    if not first:
+    found = resultant(2, p, q, 1)
+    if not found:
         raise Endless("a resultant is 0")
-    return first, resultant(2, p, q, 0)
+    return found
 
 
 def frame(p, q):
     """The box inside of which all real zeros of a fair pair lie."""
-    return tuple([_around_zero(root_bound(found)) for found in _resultants(p, q)])
+    return (_around_zero(root_bound(_fair_resultant(p, q))), _around_zero(root_bound(resultant(2, p, q, 0))))
 
 
 def _around_zero(bound):
@@ -59,8 +59,8 @@ def plane_zeros(p, q, depth):
 
 def rational_zeros(p, q):
     """The ascending list of the zeros of a fair pair both of whose coordinates are numbers."""
-    first, _ = _resultants(p, q)
-    return [(x, y) for x in rational_roots(first) for y in rational_roots(zeros_above(p, q, x))]
+    columns = rational_roots(_fair_resultant(p, q))
+    return [(x, y) for x in columns for y in rational_roots(zeros_above(p, q, x))]
 
 
 def counted_zeros(p, q):

@@ -11,6 +11,14 @@ _REST = ("rest",)
 
 def check_tree(system, box, value):
     """True if any value is a right tree in which at most 40 halvings lie on the way to any leaf."""
+    return all_leaves_fit(box, value, lambda part, leaf: _is_right_leaf(system, part, leaf))
+
+
+def all_leaves_fit(box, value, fits):
+    """True if any value is a tree of halvings of a box, at most 40 deep, of which each leaf fits its part of the box.
+
+    What fits is told by a function of a part and a leaf: a tuple that begins with a text.
+    """
     waiting = [(box, value, 0)]
     while waiting:
         part, tree, depth = waiting.pop()
@@ -25,7 +33,7 @@ def check_tree(system, box, value):
             first, second = halves(part, tree[1])
             waiting.append((second, tree[3], depth + 1))
             waiting.append((first, tree[2], depth + 1))
-        elif not _is_right_leaf(system, part, tree):
+        elif not fits(part, tree):
             return False
     return True
 

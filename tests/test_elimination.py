@@ -78,6 +78,14 @@ class Resultants(unittest.TestCase):
         p, r = system_of(3, "y^2 + x*y + z", "2*y + x")
         self.assertEqual(resultant(3, p, r, 1), read_polynomial(2, "4*y - x^2"))
 
+    def test_great_exponents(self):
+        p, r = (((0, 0, 3), (1, 1)), ((0, 40, 0), (-1, 1))), (((0, 40, 3), (1, 1)), ((1, 0, 0), (-1, 1)))
+        expected = raised(2, (((0, 80), (1, 1)), ((1, 0), (-1, 1))), 3)
+        self.assertEqual(resultant(3, p, r, 2), expected)
+        self.assertEqual(resultant(3, p, (((1000000, 1, 1), (1, 1)),), 2), (((3000000, 43), (1, 1)),))
+        a, b = elimination_paper(3, p, r, 2)
+        self.assertEqual(added(multiplied(a, p), multiplied(b, r)), put_in(expected, 2))
+
     def test_order_of_the_other_variables(self):
         p, r = system_of(4, "u - x^2", "u - y*z^3")
         self.assertEqual(resultant(4, p, r, 3), read_polynomial(3, "x^2 - y*z^3"))

@@ -21,7 +21,7 @@ NODES = {
     "List", "Dict", "Subscript", "Slice", "Attribute", "Call", "keyword", "BinOp", "UnaryOp", "BoolOp", "Compare", "IfExp",
     "ListComp", "DictComp", "comprehension", "JoinedStr", "FormattedValue", "And", "Or", "Not", "USub", "Add", "Sub",
     "Mult", "FloorDiv", "Mod", "LShift", "RShift", "BitAnd", "BitOr", "BitXor", "Eq", "NotEq", "Lt", "LtE", "Gt", "GtE",
-    "Is", "IsNot", "In", "NotIn", "Try", "ExceptHandler",
+    "Is", "IsNot", "In", "NotIn", "Try", "ExceptHandler", "Lambda",
 }
 BUILTINS = {
     "len", "range", "enumerate", "zip", "min", "max", "sum", "abs", "sorted", "reversed", "int", "str", "bool", "list",
@@ -35,7 +35,7 @@ METHODS = {
 }
 LIBRARY = {"math": {"gcd", "lcm", "isqrt", "comb", "perm", "factorial"}, "itertools": {"combinations"}}
 # Parameters and local variables that are functions.
-FUNCTIONS = {"action", "form", "combined"}
+FUNCTIONS = {"action", "form", "combined", "fits"}
 BARRED = {
     "register", "mro", "elements", "open", "input", "law", "version_info", "with_traceback", "add_note", "attrgetter",
     "breakpoint", "compile", "copyright", "credits", "delattr", "dir", "eval", "exec", "exit", "gc", "globals", "help",

@@ -158,6 +158,8 @@ class Checking(unittest.TestCase):
     def test_strange_values(self):
         low, point, tree = PAPER
         for strange in strange_values():
+            for point_in_plane in ((num(0), strange), (strange, num(0))):
+                self.check((num(-2), point_in_plane, OVER), False, BOWL, PLANE)
             for wrong in (
                 strange, (strange,) * 3, (strange, point, tree), (low, strange, tree), (low, (strange,), tree), (low, point, strange),
                 (low, point, (strange,)), (low, point, ("halve", 0, strange, OVER)),

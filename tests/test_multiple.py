@@ -28,7 +28,7 @@ KNOWN = [
 
 # Systems that are 0 along a line or more through 0.
 NOT_ISOLATED = [
-    (1, ("0",)), (1, ("0", "0")), (2, ("x",)), (2, ("x*y", "x")), (2, ("x - y", "x^2 - y^2")), (2, ("x^2", "0")),
+    (1, ("0",)), (1, ("0", "0")), (2, ("x",)), (2, ("x - y", "(x - y)^2")), (3, ("x - y", "(y - z)*(x + y)", "(x - z)^2")), (2, ("x*y", "x")), (2, ("x - y", "x^2 - y^2")), (2, ("x^2", "0")),
     (2, ("y - x^2", "y - x^2")), (3, ("x", "y")), (3, ("x*z", "y*z", "z^2")), (3, ("x", "y^2", "x*y")),
 ]
 
@@ -129,6 +129,18 @@ class DualSizes(unittest.TestCase):
             sizes = [dual_size(n, system, point, d) for d in range(5 if n < 3 else 4)]
             self.assertEqual(sizes, [slow_dual_size(n, system, point, d) for d in range(len(sizes))], (n, system))
             self.assertEqual(sizes, sorted(sizes))
+
+    def test_against_macaulay_with_common_factors(self):
+        maker = Maker(108)
+        for _ in range(60):
+            n = maker.random.randint(2, 3)
+            point = maker.point(n)
+            first, second, third = (
+                tuple((e, c) for e, c in maker.polynomial(n, 4, 1) if low <= sum(e) <= 2) for low in (1, 0, 1)
+            )
+            system = moved_to(n, (multiplied(first, third), multiplied(second, third), multiplied(first, first)), point)
+            for d in range(5 if n == 2 else 4):
+                self.assertEqual(dual_size(n, system, point, d), slow_dual_size(n, system, point, d))
 
     def test_against_macaulay_at_any_point(self):
         maker = Maker(102)

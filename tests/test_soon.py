@@ -16,6 +16,7 @@ from rootfast.desk import run_desk
 from rootfast.elimination import (
     check_elimination, column_counts, elimination_paper, is_upright, resultant, zero_count, zeros_above,
 )
+from rootfast.errors import BadText
 from rootfast.hunts import Hunt, restored
 from rootfast.intervals import power_of, product_of, rounded
 from rootfast.least import check_least, least
@@ -550,6 +551,15 @@ class LeastValues(Soon):
                 for box in (figured_box(maker, n), around([0] * n, 1)):
                     shape_over(p, box)
                     critical_boxes(n, p, box, depth)
+
+
+class Claims(Soon):
+    def test_no_polynomial_is_multiplied_out(self):
+        start = "variables 4\n" + "polynomial x\n" * 3 + "polynomial "
+        for formula in ("((x + y + z + u + 1)^12)^12", "(x + y + z + u)^12*(x + y + z + u + 7)^12"):
+            for text in (start + formula + "\nbox [0,1] [0,1] [0,1] [0,1]\ntree rest\n", start + formula):
+                self.assertRaises(BadText, read_claim, text)
+                self.assertRaises(BadText, judged, text)
 
 
 class OnTheLine(Soon):
