@@ -19,10 +19,18 @@ def hessian(n, p):
 
 def shape_over(p, box):
     """The word for what a critical point of p in a box is: least, greatest, saddle or unclear."""
-    n = len(box)
+    return _shape_of(_leading_minors(len(box), p), box)
+
+
+def _leading_minors(n, p):
+    """The list of the determinants of the first k rows and columns of the second derivatives, for k from 1 to n."""
     rows = hessian(n, p)
-    signs = [_minor_sign(n, rows, k, box) for k in range(1, n + 1)]
-    # The determinants of odd and of even numbers of rows.
+    return [polynomial_determinant(n, [row[:k] for row in rows[:k]]) for k in range(1, n + 1)]
+
+
+def _shape_of(minors, box):
+    signs = [sign_of(bounds(p, box)) for p in minors]
+    # Those of odd and of even numbers of rows.
     odd = signs[::2]
     even = signs[1::2]
     if odd.count(1) == len(odd) and even.count(1) == len(even):
@@ -34,13 +42,8 @@ def shape_over(p, box):
     return "unclear"
 
 
-def _minor_sign(n, rows, k, box):
-    """The sign over a box of the determinant of the first k rows and columns."""
-    found = polynomial_determinant(n, [row[:k] for row in rows[:k]])
-    return sign_of(bounds(found, box))
-
-
 def critical_boxes(n, p, box, depth):
     """The list of the pairs of the told boxes of a search for critical points, and their words."""
     tree = search(gradient(n, p), box, depth)
-    return [(wide, shape_over(p, wide)) for wide, _ in told(box, tree)]
+    minors = _leading_minors(n, p)
+    return [(wide, _shape_of(minors, wide)) for wide, _ in told(box, tree)]

@@ -46,7 +46,7 @@ class Desk:
         """True if there are two polynomials in two variables."""
         return self.n == 2 and len(self.polynomials) == 2
 
-    def is_shape(self):
+    def is_one_over_box(self):
         """True if there are a box and one polynomial, in at most three variables."""
         return self.n < 4 and len(self.polynomials) == 1 and self.box is not None
 
@@ -239,7 +239,7 @@ def _tell_rational(desk, values):
 
 
 def _tell_least(desk, values):
-    if not desk.is_shape():
+    if not desk.is_one_over_box():
         return None
     gap, depth = values
     paper = least(desk.polynomials[0], desk.box, gap, depth)
@@ -250,7 +250,7 @@ def _tell_least(desk, values):
 
 
 def _tell_shape(desk, values):
-    if not desk.is_shape():
+    if not desk.is_one_over_box():
         return None
     return [shape_over(desk.polynomials[0], desk.box)]
 
