@@ -53,8 +53,8 @@ def null_vectors(rows, columns):
 
 def _turned_to_zero(vectors, row):
     """A list of vectors that span what the row turns into 0, of all that some vectors span."""
-    entries = [(k, a) for k, a in enumerate(row) if a != 0]
-    sums = [sum([a * vector[k] for k, a in entries]) for vector in vectors]
+    entries = [(i, a) for i, a in enumerate(row) if a != 0]
+    sums = [sum([a * vector[i] for i, a in entries]) for vector in vectors]
     at = 0
     while at < len(sums) and sums[at] == 0:
         at += 1

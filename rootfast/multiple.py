@@ -26,7 +26,7 @@ def _dual_sizes(n, system, point, d):
 
     What does not grow once never grows again.
     """
-    if not is_zero(system, point):
+    if not _is_zero(system, point):
         return [0, 0]
     tables = _moved_tables(n, system, point, d)
     space = _first_space(n)
@@ -37,7 +37,7 @@ def _dual_sizes(n, system, point, d):
     return sizes
 
 
-def is_zero(system, point):
+def _is_zero(system, point):
     """True if the point is a zero of the system."""
     return all([value[0] == 0 for value in values_at(system, point)])
 
@@ -134,7 +134,7 @@ def deflated(n, system, point):
 
 
 def _rank_at_zero(n, system, point):
-    if not is_zero(system, point):
+    if not _is_zero(system, point):
         raise NoZero("the point is no zero of the system")
     return rank(jacobian(n, system, point))
 

@@ -12,8 +12,8 @@ def sum_of_roots(r, s):
     # p(y) and q(x - y) have a common root y where x is the sum of a root of p and one of q.
     left = subtracted(variable(2, 0), variable(2, 1))
     total = ()
-    for (e,), coefficient in s[0]:
-        total = added(total, scaled(raised(2, left, e), coefficient))
+    for exponents, coefficient in s[0]:
+        total = added(total, scaled(raised(2, left, exponents[0]), coefficient))
     return _narrowed_root(_eliminated(r[0], total), r, s, sum_of)
 
 
@@ -22,13 +22,13 @@ def product_of_roots(r, s):
     # p(y) and q(x / y) times a power of y have a common root y where x is such a product.
     q = s[0]
     top = degree(q)
-    total = tuple([((e, top - e), coefficient) for (e,), coefficient in q])
+    total = tuple([((e[0], top - e[0]), coefficient) for e, coefficient in q])
     return _narrowed_root(_eliminated(r[0], total), r, s, product_of)
 
 
 def _eliminated(p, q):
     """The polynomial whose roots are the x at which p, in the second variable, and q have a common root."""
-    upright = tuple([((0, e), coefficient) for (e,), coefficient in p])
+    upright = tuple([((0, e[0]), coefficient) for e, coefficient in p])
     return simple_part(resultant(2, upright, q, 1))
 
 

@@ -1,5 +1,7 @@
 """Promise [18.1]: the desk."""
 
+import itertools
+import re
 import unittest
 from fractions import Fraction
 
@@ -185,6 +187,52 @@ class Lines(Desk):
         self.check("variables 4\nvariables 3\npolynomial z\nshow\nat 1 2 3", "z\nvalues 3\n")
         self.bad("variables 2\npolynomial y\nvariables 1\npolynomial y")
         self.bad("variables 2\nvariables 1\nat 1 2")
+
+
+NUMBER = "-?(?:0|[1-9][0-9]{0,59})(?:/[1-9][0-9]{0,59})?"
+DEPTH = "(?:[0-9]|1[0-2])"
+PLANE = f"{NUMBER} {NUMBER}"
+# The commands for two variables, apart from formulas and from what fractions and intervals must fulfil besides.
+FORM = re.compile("|".join([
+    "variables [1-4]", "polynomial .*", f"box \\[{NUMBER},{NUMBER}\\] \\[{NUMBER},{NUMBER}\\]", "show", f"at {PLANE}", "roots",
+    f"tree {DEPTH}", f"count {DEPTH}", f"winding {DEPTH}", f"multiplicity [0-6] {PLANE}", "resultant", "frame", "rational",
+    f"least {NUMBER} {DEPTH}", "shape", "#.*", "",
+]))
+LINES = (
+    "variables 2", "box [0,1] [-1/2,3]", "show", "at 1/2 -3", "roots", "tree 1", "count 12", "winding 0",
+    "multiplicity 6 0 -7/3", "resultant", "frame", "rational", "least 1/2 10", "shape", "# x",
+)
+
+
+def is_command(line):
+    """True if a line without a formula is a command for two variables, looked at in another way."""
+    if not FORM.fullmatch(line):
+        return False
+    if line[:1] == "#":
+        return True
+    words = [word for word in re.split("[ ,\\[\\]]", line)[1:] if word]
+    # A fraction is its own text, 0 has no sign, and no whole number is a fraction.
+    if any(str(Fraction(word)) != word for word in words):
+        return False
+    numbers = [Fraction(word) for word in words]
+    if line.startswith("box"):
+        return numbers[0] <= numbers[1] and numbers[2] <= numbers[3]
+    return not line.startswith("least") or numbers[0] >= 0
+
+
+class Bent(Desk):
+    def test_bent_lines(self):
+        count = 0
+        for line in LINES:
+            for at, sign in itertools.product(range(len(line) + 1), " -+/01237,[]x#_.\t\r"):
+                for bent in (line[:at] + sign + line[at:], line[:at] + sign + line[at + 1:], line[:at] + line[at + 1:]):
+                    text = "variables 2\n" + bent
+                    if is_command(bent):
+                        count += 1
+                        self.check(text, Slow().report(text))
+                    else:
+                        self.bad(text)
+        self.assertGreater(count, 100)
 
 
 class Setting(Desk):
